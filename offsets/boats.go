@@ -6,6 +6,7 @@ import (
 	"sync"
 
 	"ribband/api"
+	"ribband/terms"
 )
 
 const (
@@ -78,7 +79,7 @@ func (c checked) boatsWith(wrong []int) iter.Seq[boat] {
 // boats yields all boats.
 func (c checked) boats() iter.Seq[boat] {
 	return func(yield func(boat) bool) {
-		for wrong := range lists(len(c.cells), c.Wrong) {
+		for wrong := range terms.Lists(len(c.cells), c.Wrong) {
 			for b := range c.boatsWith(wrong) {
 				if !yield(b) {
 					return
@@ -93,40 +94,6 @@ func some(boats iter.Seq[boat]) bool {
 		return true
 	}
 	return false
-}
-
-// sureOf tells how sure is what is so in many boats of all.
-func sureOf(many, all int) api.Sure {
-	switch many {
-	case 0:
-		return api.No
-	case all:
-		return api.Yes
-	}
-	return api.Open
-}
-
-// lists yields the ascending lists of indexes below n with most of them at most: the shortest ones first, of these the least ones.
-func lists(n, most int) iter.Seq[[]int] {
-	return func(yield func([]int) bool) {
-		var grow func(list []int, from, size int) bool
-		grow = func(list []int, from, size int) bool {
-			if len(list) == size {
-				return yield(slices.Clone(list))
-			}
-			for i := from; i < n; i++ {
-				if !grow(append(list, i), i+1, size) {
-					return false
-				}
-			}
-			return true
-		}
-		for size := range min(n, most) + 1 {
-			if !grow(nil, 0, size) {
-				return
-			}
-		}
-	}
 }
 
 // tally is how many boats there are, in how many of them each cell is wrong, and in how many it has each measure.
@@ -172,7 +139,7 @@ func (c checked) tallyWith(wrong []int) tally {
 
 // tally counts all boats. Tallies are added in whatever order they come, as their sum is the same.
 func (c checked) tally() tally {
-	all := slices.Collect(lists(len(c.cells), c.Wrong))
+	all := slices.Collect(terms.Lists(len(c.cells), c.Wrong))
 	tallies := make(chan tally, len(all))
 	var group sync.WaitGroup
 	for _, wrong := range all {

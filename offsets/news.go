@@ -1,13 +1,16 @@
 package offsets
 
-import "ribband/api"
+import (
+	"ribband/api"
+	"ribband/terms"
+)
 
 // clash returns the fewest cells that contradict each other.
 func (c checked) clash() []int {
 	if some(c.boatsWith(nil)) {
 		return nil
 	}
-	for list := range lists(len(c.cells), len(c.cells)) {
+	for list := range terms.Lists(len(c.cells), len(c.cells)) {
 		if !some(c.boatsWith(c.without(list))) {
 			return list
 		}

@@ -7,6 +7,7 @@ import (
 	"slices"
 
 	"ribband/api"
+	"ribband/terms"
 )
 
 // CheckTable returns the snag of a table.
@@ -122,7 +123,7 @@ func Wrong(t api.OffsetsTable, c api.OffsetsCell) (api.Sure, api.Snag) {
 	if sum.boats == 0 {
 		return api.Open, api.Foul
 	}
-	return sureOf(sum.wrong[i], sum.boats), api.Clear
+	return terms.SureOf(sum.wrong[i], sum.boats), api.Clear
 }
 
 // Sound returns whether there is a boat in which no cell is wrong.
@@ -140,7 +141,7 @@ func Fewest(t api.OffsetsTable) ([]int, api.Snag) {
 	if s != api.Clear {
 		return nil, s
 	}
-	for wrong := range lists(len(c.cells), len(c.cells)) {
+	for wrong := range terms.Lists(len(c.cells), len(c.cells)) {
 		if some(c.boatsWith(wrong)) {
 			return wrong, api.Clear
 		}

@@ -1,11 +1,11 @@
 package offsets
 
 import (
-	"slices"
 	"strconv"
 	"strings"
 
 	"ribband/api"
+	"ribband/terms"
 )
 
 // textLine is a line of a text; its rank tells which lines it can be behind.
@@ -51,12 +51,13 @@ func (t table) text() string {
 }
 
 func readTable(text string) (api.OffsetsTable, error) {
-	if text == "" {
+	lines := terms.Lines(text)
+	if len(lines) == 0 {
 		return api.OffsetsTable{}, badLine{0}
 	}
 	var t api.OffsetsTable
 	last := headRank
-	for i, s := range strings.Split(strings.TrimSuffix(text, "\n"), "\n") {
+	for i, s := range lines {
 		line, ok := readLine(s)
 		if !ok || (i == 0) != (line.rank() == headRank) || line.rank() < last {
 			return api.OffsetsTable{}, badLine{i + 1}
@@ -79,13 +80,13 @@ func readTable(text string) (api.OffsetsTable, error) {
 }
 
 func readLine(s string) (textLine, bool) {
-	fields := strings.Split(s, " ")
-	if slices.Contains(fields, "") {
+	fields, ok := terms.Fields(s)
+	if !ok {
 		return nil, false
 	}
 	switch {
 	case fields[0] == "offsets" && len(fields) == 2:
-		n, ok := readNumber(fields[1])
+		n, ok := terms.Number(fields[1])
 		return headLine{n}, ok
 	case fields[0] == "station" && len(fields) == 2:
 		return stationLine{fields[1]}, true
@@ -107,21 +108,4 @@ func readFigures(word, at, figures string) (textLine, bool) {
 		}
 	}
 	return nil, false
-}
-
-// mostDigits is how many digits a number in a field has at most.
-const mostDigits = 9
-
-func readNumber(field string) (int, bool) {
-	digits := strings.TrimPrefix(field, "-")
-	if len(digits) < 1 || len(digits) > mostDigits || digits[0] == '0' && field != "0" {
-		return 0, false
-	}
-	for _, digit := range digits {
-		if digit < '0' || digit > '9' {
-			return 0, false
-		}
-	}
-	n, err := strconv.Atoi(field)
-	return n, err == nil
 }

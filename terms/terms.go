@@ -1,0 +1,60 @@
+// Package terms has what the sections Terms and Rules of shared/DOC.md say for all layers: spans, lists, how sure something is, and the fields of texts.
+package terms
+
+import (
+	"iter"
+	"slices"
+
+	"ribband/api"
+)
+
+// IsSpan tells whether x is a span from a number to another one.
+func IsSpan(x api.Span, from, to int) bool {
+	return from <= x.Low && x.Low <= x.High && x.High <= to
+}
+
+// Common returns what two spans have in common, and whether that is anything.
+func Common(x, y api.Span) (api.Span, bool) {
+	both := api.Span{Low: max(x.Low, y.Low), High: min(x.High, y.High)}
+	if both.Low > both.High {
+		return api.Span{}, false
+	}
+	return both, true
+}
+
+// Has tells whether a number is in a span.
+func Has(x api.Span, n int) bool { return x.Low <= n && n <= x.High }
+
+// SureOf tells how sure is what is so in many boats of all.
+func SureOf(many, all int) api.Sure {
+	switch many {
+	case 0:
+		return api.No
+	case all:
+		return api.Yes
+	}
+	return api.Open
+}
+
+// Lists yields the ascending lists of indexes below n with most of them at most: the shortest ones first, of these the least ones.
+func Lists(n, most int) iter.Seq[[]int] {
+	return func(yield func([]int) bool) {
+		var grow func(list []int, from, size int) bool
+		grow = func(list []int, from, size int) bool {
+			if len(list) == size {
+				return yield(slices.Clone(list))
+			}
+			for i := from; i < n; i++ {
+				if !grow(append(list, i), i+1, size) {
+					return false
+				}
+			}
+			return true
+		}
+		for size := range min(n, most) + 1 {
+			if !grow(nil, 0, size) {
+				return
+			}
+		}
+	}
+}

@@ -1,0 +1,84 @@
+package terms_test
+
+import (
+	"slices"
+	"testing"
+
+	"ribband/api"
+	"ribband/terms"
+)
+
+const most = int(^uint(0) >> 1)
+
+func to(a, b int) api.Span { return api.Span{Low: a, High: b} }
+
+func TestIsSpan(t *testing.T) {
+	for x, want := range map[api.Span]bool{
+		to(3, 3): true, to(3, 7): true, to(7, 7): true, to(4, 6): true,
+		to(5, 4): false, to(2, 3): false, to(7, 8): false, to(2, 8): false, to(8, 9): false, to(-most-1, most): false, to(most, -most-1): false,
+	} {
+		if is := terms.IsSpan(x, 3, 7); is != want {
+			t.Error(x, is)
+		}
+	}
+}
+
+func TestHas(t *testing.T) {
+	for n, want := range map[int]bool{2: false, 3: true, 4: true, 5: true, 6: false, -3: false} {
+		if has := terms.Has(to(3, 5), n); has != want {
+			t.Error(n, has)
+		}
+	}
+}
+
+func TestCommon(t *testing.T) {
+	for _, x := range []struct {
+		a, b, want api.Span
+		ok         bool
+	}{
+		{to(1, 5), to(3, 9), to(3, 5), true},
+		{to(3, 9), to(1, 5), to(3, 5), true},
+		{to(1, 9), to(4, 4), to(4, 4), true},
+		{to(1, 4), to(4, 9), to(4, 4), true},
+		{to(1, 3), to(4, 9), api.Span{}, false},
+		{to(4, 9), to(-5, -1), api.Span{}, false},
+	} {
+		if both, ok := terms.Common(x.a, x.b); both != x.want || ok != x.ok {
+			t.Error(x, both, ok)
+		}
+	}
+}
+
+func TestSureOf(t *testing.T) {
+	if terms.SureOf(0, 3) != api.No || terms.SureOf(1, 3) != api.Open || terms.SureOf(2, 3) != api.Open || terms.SureOf(3, 3) != api.Yes {
+		t.Error("not as sure as it is")
+	}
+}
+
+func TestLists(t *testing.T) {
+	equal := func(got [][]int, want ...[]int) bool { return slices.EqualFunc(got, want, slices.Equal) }
+	if got := slices.Collect(terms.Lists(3, 3)); !equal(got, nil, []int{0}, []int{1}, []int{2}, []int{0, 1}, []int{0, 2}, []int{1, 2}, []int{0, 1, 2}) {
+		t.Error(got)
+	}
+	if got := slices.Collect(terms.Lists(3, 1)); !equal(got, nil, []int{0}, []int{1}, []int{2}) {
+		t.Error(got)
+	}
+	if got := slices.Collect(terms.Lists(2, 9)); !equal(got, nil, []int{0}, []int{1}, []int{0, 1}) {
+		t.Error(got)
+	}
+	if got := slices.Collect(terms.Lists(0, 2)); !equal(got, nil) {
+		t.Error(got)
+	}
+	if got := slices.Collect(terms.Lists(4, 0)); !equal(got, nil) {
+		t.Error(got)
+	}
+	many := 0
+	for range terms.Lists(5, 5) {
+		if many++; many == 7 {
+			break
+		}
+	}
+	if many != 7 {
+		t.Error(many)
+	}
+}

@@ -1,0 +1,68 @@
+package terms
+
+import (
+	"slices"
+	"strconv"
+	"strings"
+
+	"ribband/api"
+)
+
+const (
+	mostDigits = 9 // of a number in a field
+	between    = ".."
+)
+
+// Lines returns the lines of a text, the last of which need not end with a line feed.
+func Lines(text string) []string {
+	if text == "" {
+		return nil
+	}
+	return strings.Split(strings.TrimSuffix(text, "\n"), "\n")
+}
+
+// Fields returns the word and the fields of a line, unless one of them is empty.
+func Fields(line string) ([]string, bool) {
+	fields := strings.Split(line, " ")
+	if slices.Contains(fields, "") {
+		return nil, false
+	}
+	return fields, true
+}
+
+// Number reads a number in a field.
+func Number(field string) (int, bool) {
+	digits := strings.TrimPrefix(field, "-")
+	if len(digits) < 1 || len(digits) > mostDigits || digits[0] == '0' && field != "0" {
+		return 0, false
+	}
+	for _, digit := range digits {
+		if digit < '0' || digit > '9' {
+			return 0, false
+		}
+	}
+	n, err := strconv.Atoi(field)
+	return n, err == nil
+}
+
+// Span reads a span in a field. Whether its Low is not above its High is not looked at.
+func Span(field string) (api.Span, bool) {
+	low, high, two := strings.Cut(field, between)
+	from, ok := Number(low)
+	if !two {
+		return api.Span{Low: from, High: from}, ok
+	}
+	to, good := Number(high)
+	if !ok || !good || from == to {
+		return api.Span{}, false
+	}
+	return api.Span{Low: from, High: to}, true
+}
+
+// SpanText writes a span.
+func SpanText(x api.Span) string {
+	if x.Low == x.High {
+		return strconv.Itoa(x.Low)
+	}
+	return strconv.Itoa(x.Low) + between + strconv.Itoa(x.High)
+}

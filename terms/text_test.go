@@ -1,0 +1,73 @@
+package terms_test
+
+import (
+	"slices"
+	"testing"
+
+	"ribband/api"
+	"ribband/terms"
+)
+
+func TestLines(t *testing.T) {
+	for text, want := range map[string][]string{
+		"":         nil,
+		"\n":       {""},
+		"a":        {"a"},
+		"a\n":      {"a"},
+		"a\n\n":    {"a", ""},
+		"a\nb":     {"a", "b"},
+		"a\r\nb\n": {"a\r", "b"},
+		"\nb\n":    {"", "b"},
+	} {
+		if got := terms.Lines(text); !slices.Equal(got, want) {
+			t.Errorf("%q %q", text, got)
+		}
+	}
+}
+
+func TestFields(t *testing.T) {
+	for line, want := range map[string][]string{
+		"":        nil,
+		" ":       nil,
+		"a":       {"a"},
+		"a b":     {"a", "b"},
+		"a  b":    nil,
+		" a":      nil,
+		"a ":      nil,
+		"a\tb \r": {"a\tb", "\r"},
+	} {
+		if got, ok := terms.Fields(line); !slices.Equal(got, want) || ok != (want != nil) {
+			t.Errorf("%q %q %v", line, got, ok)
+		}
+	}
+}
+
+func TestNumber(t *testing.T) {
+	for field, want := range map[string]int{"0": 0, "7": 7, "10": 10, "-1": -1, "-10": -10, "999999999": 999999999, "-999999999": -999999999} {
+		if n, ok := terms.Number(field); n != want || !ok {
+			t.Error(field, n, ok)
+		}
+	}
+	for _, field := range []string{"", "-", "--1", "-0", "00", "01", "-01", "+1", "1000000000", "-1000000000", "1.", "1_0", "0x1", "1e3", " 1", "1 ", "a", "\u0661", "\xff", "99999999999999999999"} {
+		if n, ok := terms.Number(field); n != 0 || ok {
+			t.Error(field, n, ok)
+		}
+	}
+}
+
+func TestSpan(t *testing.T) {
+	for field, want := range map[string]api.Span{"5": to(5, 5), "-5": to(-5, -5), "5..7": to(5, 7), "7..5": to(7, 5), "-2..4": to(-2, 4), "-4..-2": to(-4, -2), "0..-1": to(0, -1), "-999999999..999999999": to(-999999999, 999999999)} {
+		x, ok := terms.Span(field)
+		if x != want || !ok {
+			t.Error(field, x, ok)
+		}
+		if text := terms.SpanText(x); text != field {
+			t.Error(field, text)
+		}
+	}
+	for _, field := range []string{"", "..", "5..", "..5", "5..5", "5.6", "5...6", "5..6..7", "5..06", "05..6", "-0", "-0..1", "0..-0", "5-6", "5..1000000000", "5,6"} {
+		if x, ok := terms.Span(field); x != (api.Span{}) || ok {
+			t.Error(field, x, ok)
+		}
+	}
+}
