@@ -7,22 +7,6 @@ import (
 	"ribband/terms"
 )
 
-// check is a way in which something can be wrong, and its snag.
-type check[T any] struct {
-	wrong func(T) bool
-	snag  api.Snag
-}
-
-// snagOf returns the snag of the first check that finds something wrong.
-func snagOf[T any](x T, checks []check[T]) api.Snag {
-	for _, c := range checks {
-		if c.wrong(x) {
-			return c.snag
-		}
-	}
-	return api.Clear
-}
-
 // book is a book that was not checked yet.
 type book struct{ api.BattenBook }
 
@@ -38,11 +22,11 @@ func open(b api.BattenBook) (checked, api.Snag) {
 }
 
 func (b book) snag() api.Snag {
-	s := snagOf(b, []check[book]{
-		{book.stiffnessOut, api.Range},
-		{book.marksMiscounted, api.Many},
-		{book.markOut, api.Range},
-		{book.rulesTooMany, api.Many},
+	s := terms.SnagOf(b, []terms.Check[book]{
+		{Wrong: book.stiffnessOut, Snag: api.Range},
+		{Wrong: book.marksMiscounted, Snag: api.Many},
+		{Wrong: book.markOut, Snag: api.Range},
+		{Wrong: book.rulesTooMany, Snag: api.Many},
 	})
 	if s != api.Clear {
 		return s
@@ -56,10 +40,8 @@ func (b book) snag() api.Snag {
 }
 
 func (b book) stiffnessOut() bool {
-	return isOut(b.Bend, api.MaxBattenBend) || isOut(b.Twist, api.MaxBattenTwist) || isOut(b.Turns, api.MaxBattenTurns)
+	return terms.IsOut(b.Bend, api.MaxBattenBend) || terms.IsOut(b.Twist, api.MaxBattenTwist) || terms.IsOut(b.Turns, api.MaxBattenTurns)
 }
-
-func isOut(n, most int) bool { return n < 0 || n > most }
 
 func (b book) marksMiscounted() bool {
 	return len(b.Marks) < leastStations || len(b.Marks) > api.MaxBattenStations
@@ -83,40 +65,19 @@ type rule struct {
 }
 
 func (b book) ruleSnag(r api.BattenRule) api.Snag {
-	return snagOf(rule{r, len(b.Marks)}, []check[rule]{
-		{rule.absent, api.Absent},
-		{rule.turned, api.Turned},
-		{rule.riseOut, api.Range},
+	return terms.SnagOf(rule{r, len(b.Marks)}, []terms.Check[rule]{
+		{Wrong: rule.absent, Snag: api.Absent},
+		{Wrong: rule.turned, Snag: api.Turned},
+		{Wrong: rule.riseOut, Snag: api.Range},
 	})
 }
 
 func (r rule) absent() bool {
-	return !isIndex(r.A, r.stations) || !isIndex(r.B, r.stations)
+	return !terms.IsIndex(r.A, r.stations) || !terms.IsIndex(r.B, r.stations)
 }
 
 func (r rule) turned() bool { return r.A >= r.B }
 
 func (r rule) riseOut() bool {
 	return !terms.IsSpan(r.Rise, -api.MaxBattenHeight, api.MaxBattenHeight)
-}
-
-func isIndex(i, many int) bool { return i >= 0 && i < many }
-
-// heights are those of a line that is handed in, for so many stations.
-type heights struct {
-	list     []int
-	stations int
-}
-
-func (b book) lineSnag(list []int) api.Snag {
-	return snagOf(heights{list, len(b.Marks)}, []check[heights]{
-		{heights.miscounted, api.Many},
-		{heights.out, api.Range},
-	})
-}
-
-func (h heights) miscounted() bool { return len(h.list) != h.stations }
-
-func (h heights) out() bool {
-	return slices.ContainsFunc(h.list, func(height int) bool { return isOut(height, api.MaxBattenHeight) })
 }

@@ -27,7 +27,7 @@ func (c checked) clash() (rules []int, found bool) {
 		group.Add(1)
 		go func() {
 			defer group.Done()
-			if c.with(list).hasBoat() {
+			if terms.IsAny(c.with(list).boats()) {
 				sound <- i
 			} else {
 				foul <- i
@@ -49,24 +49,6 @@ func (c checked) clash() (rules []int, found bool) {
 	return all[first], true
 }
 
-// ask returns the station whose height leaves the fewest boats in the worst case, and how many these are; -1 if none leaves fewer than there are.
-func (c checked) ask(t tally) (at, left int) {
-	at, left = -1, t.boats
-stations:
-	for station := range len(c.Marks) {
-		worst := 0
-		mark := c.Marks[station]
-		for height := mark.Low; height <= mark.High; height++ {
-			worst = max(worst, t.with[held{station, height}])
-			if worst >= left {
-				continue stations
-			}
-		}
-		at, left = station, worst
-	}
-	return at, left
-}
-
 // copyOf returns a book in memory of its own.
 func copyOf(b api.BattenBook) api.BattenBook {
 	b.Marks = slices.Clone(b.Marks)
@@ -80,7 +62,7 @@ func news(b api.BattenBook) (api.BattenBook, api.Snag) {
 	if s != api.Clear {
 		return api.BattenBook{}, s
 	}
-	if !c.hasBoat() {
+	if !terms.IsAny(c.boats()) {
 		return api.BattenBook{}, api.Foul
 	}
 	return b, api.Clear

@@ -2,7 +2,6 @@ package batten
 
 import (
 	"strconv"
-	"strings"
 
 	"ribband/api"
 	"ribband/terms"
@@ -44,11 +43,7 @@ func (b book) text() string {
 	for _, r := range b.Rules {
 		lines = append(lines, []string{ruleWord, strconv.Itoa(r.A), strconv.Itoa(r.B), terms.SpanText(r.Rise)})
 	}
-	var text strings.Builder
-	for _, fields := range lines {
-		text.WriteString(strings.Join(fields, " ") + "\n")
-	}
-	return text.String()
+	return terms.Text(lines)
 }
 
 // badLine is what the reading of a text panics with: the number of the first line that does not have its form, or is out of order.

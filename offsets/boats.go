@@ -89,13 +89,6 @@ func (c checked) boats() iter.Seq[boat] {
 	}
 }
 
-func some(boats iter.Seq[boat]) bool {
-	for range boats {
-		return true
-	}
-	return false
-}
-
 // tally is how many boats there are, in how many of them each cell is wrong, and in how many it has each measure.
 type tally struct {
 	boats int

@@ -7,11 +7,11 @@ import (
 
 // clash returns the fewest cells that contradict each other.
 func (c checked) clash() []int {
-	if some(c.boatsWith(nil)) {
+	if terms.IsAny(c.boatsWith(nil)) {
 		return nil
 	}
 	for list := range terms.Lists(len(c.cells), len(c.cells)) {
-		if !some(c.boatsWith(c.without(list))) {
+		if !terms.IsAny(c.boatsWith(c.without(list))) {
 			return list
 		}
 	}
@@ -53,7 +53,7 @@ func (c checked) put(which api.OffsetsCell, figure string) (api.OffsetsTable, ap
 	if s != api.Clear {
 		return api.OffsetsTable{}, s
 	}
-	if !some(now.boats()) {
+	if !terms.IsAny(now.boats()) {
 		return api.OffsetsTable{}, api.Foul
 	}
 	return t, api.Clear

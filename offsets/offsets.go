@@ -132,7 +132,7 @@ func Sound(t api.OffsetsTable) (bool, api.Snag) {
 	if s != api.Clear {
 		return false, s
 	}
-	return some(c.boatsWith(nil)), api.Clear
+	return terms.IsAny(c.boatsWith(nil)), api.Clear
 }
 
 // Fewest returns the fewest cells that are wrong, however many the table allows.
@@ -142,7 +142,7 @@ func Fewest(t api.OffsetsTable) ([]int, api.Snag) {
 		return nil, s
 	}
 	for wrong := range terms.Lists(len(c.cells), len(c.cells)) {
-		if some(c.boatsWith(wrong)) {
+		if terms.IsAny(c.boatsWith(wrong)) {
 			return wrong, api.Clear
 		}
 	}

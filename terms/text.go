@@ -66,3 +66,12 @@ func SpanText(x api.Span) string {
 	}
 	return strconv.Itoa(x.Low) + between + strconv.Itoa(x.High)
 }
+
+// Text writes lines, each of which is a word and its fields.
+func Text(lines [][]string) string {
+	var text strings.Builder
+	for _, fields := range lines {
+		text.WriteString(strings.Join(fields, " ") + "\n")
+	}
+	return text.String()
+}

@@ -71,3 +71,12 @@ func TestSpan(t *testing.T) {
 		}
 	}
 }
+
+func TestText(t *testing.T) {
+	if text := terms.Text([][]string{{"a", "1", "2"}, {"b"}, {"c", "3..4"}}); text != "a 1 2\nb\nc 3..4\n" {
+		t.Errorf("%q", text)
+	}
+	if text := terms.Text(nil); text != "" {
+		t.Errorf("%q", text)
+	}
+}

@@ -1,0 +1,65 @@
+package terms
+
+import (
+	"cmp"
+	"iter"
+
+	"ribband/api"
+)
+
+// IsAny tells whether there is a boat.
+func IsAny[T any](boats iter.Seq[T]) bool {
+	for range boats {
+		return true
+	}
+	return false
+}
+
+// IsAmong tells whether x is one of the boats.
+func IsAmong[T comparable](boats iter.Seq[T], x T) bool {
+	for boat := range boats {
+		if boat == x {
+			return true
+		}
+	}
+	return false
+}
+
+// Sure returns how sure it is that the answer to a question is yes, unless there is no boat.
+func Sure[T any](boats iter.Seq[T], question func(T) bool) (api.Sure, api.Snag) {
+	many, all := 0, 0
+	for boat := range boats {
+		all++
+		if question(boat) {
+			many++
+		}
+	}
+	if all == 0 {
+		return api.Open, api.Foul
+	}
+	return SureOf(many, all), api.Clear
+}
+
+// Best returns the first of those that no other one comes before, if there are any. What decides first is asked first.
+func Best[T any](all iter.Seq[T], decides ...func(a, b T) int) (first T, found bool) {
+	for x := range all {
+		if !found || isBefore(x, first, decides) {
+			first, found = x, true
+		}
+	}
+	return first, found
+}
+
+func isBefore[T any](a, b T, decides []func(a, b T) int) bool {
+	for _, decide := range decides {
+		if n := decide(a, b); n != 0 {
+			return n < 0
+		}
+	}
+	return false
+}
+
+// Least decides by which one has the least of what is asked.
+func Least[T any](question func(T) int) func(a, b T) int {
+	return func(a, b T) int { return cmp.Compare(question(a), question(b)) }
+}

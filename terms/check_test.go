@@ -1,0 +1,70 @@
+package terms_test
+
+import (
+	"testing"
+
+	"ribband/api"
+	"ribband/terms"
+)
+
+type number int
+
+func (n number) isNegative() bool { return n < 0 }
+func (n number) isOdd() bool      { return n%2 != 0 }
+
+// The first check that finds something wrong decides.
+func TestSnagOf(t *testing.T) {
+	checks := []terms.Check[number]{
+		{Wrong: number.isNegative, Snag: api.Turned},
+		{Wrong: number.isOdd, Snag: api.Form},
+	}
+	for n, want := range map[number]api.Snag{2: api.Clear, 3: api.Form, -2: api.Turned, -3: api.Turned} {
+		if s := terms.SnagOf(n, checks); s != want {
+			t.Error(n, s)
+		}
+	}
+	if s := terms.SnagOf(number(-3), nil); s != api.Clear {
+		t.Error(s)
+	}
+}
+
+func TestIsIndex(t *testing.T) {
+	for i, want := range map[int]bool{-most - 1: false, -1: false, 0: true, 2: true, 3: false, most: false} {
+		if is := terms.IsIndex(i, 3); is != want {
+			t.Error(i, is)
+		}
+	}
+	if terms.IsIndex(0, 0) {
+		t.Error("nothing has an index")
+	}
+}
+
+func TestIsOut(t *testing.T) {
+	for n, want := range map[int]bool{-most - 1: true, -1: true, 0: false, 9: false, 10: true, most: true} {
+		if is := terms.IsOut(n, 9); is != want {
+			t.Error(n, is)
+		}
+	}
+}
+
+func TestNumbersSnag(t *testing.T) {
+	for i, x := range []struct {
+		list []int
+		many int
+		want api.Snag
+	}{
+		{nil, 0, api.Clear},
+		{[]int{}, 0, api.Clear},
+		{nil, 1, api.Many},
+		{[]int{0, 9}, 2, api.Clear},
+		{[]int{0, 9}, 3, api.Many},
+		{[]int{0, 10}, 1, api.Many}, // how many there are comes first
+		{[]int{0, 10}, 2, api.Range},
+		{[]int{-1, 9}, 2, api.Range},
+		{[]int{most, -most - 1}, 2, api.Range},
+	} {
+		if s := terms.NumbersSnag(x.list, x.many, 9); s != x.want {
+			t.Error(i, s)
+		}
+	}
+}
