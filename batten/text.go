@@ -7,13 +7,11 @@ import (
 	"ribband/terms"
 )
 
-// kind is a kind of lines; a text has them in this order.
-type kind int
-
+// The kinds of lines, in the order of a text.
 const (
-	battenKind kind = iota
-	markKind
-	ruleKind
+	battenRank = iota
+	markRank
+	ruleRank
 )
 
 const (
@@ -23,7 +21,7 @@ const (
 )
 
 // textLine is a line of a text.
-type textLine interface{ kind() kind }
+type textLine interface{ Rank() int }
 
 type (
 	battenLine struct{ bend, twist, turns int }
@@ -31,9 +29,9 @@ type (
 	ruleLine   struct{ rule api.BattenRule }
 )
 
-func (battenLine) kind() kind { return battenKind }
-func (markLine) kind() kind   { return markKind }
-func (ruleLine) kind() kind   { return ruleKind }
+func (battenLine) Rank() int { return battenRank }
+func (markLine) Rank() int   { return markRank }
+func (ruleLine) Rank() int   { return ruleRank }
 
 func (b book) text() string {
 	lines := [][]string{{battenWord, strconv.Itoa(b.Bend), strconv.Itoa(b.Twist), strconv.Itoa(b.Turns)}}
@@ -46,32 +44,9 @@ func (b book) text() string {
 	return terms.Text(lines)
 }
 
-// badLine is what the reading of a text panics with: the number of the first line that does not have its form, or is out of order.
-type badLine int
-
-// tryText reads a text, unless one of its lines is wrong.
-func tryText(text string) (b api.BattenBook, bad badLine, ok bool) {
-	defer func() {
-		if number, wrong := recover().(badLine); wrong {
-			b, bad, ok = api.BattenBook{}, number, false
-		}
-	}()
-	return readText(text), 0, true
-}
-
 func readText(text string) api.BattenBook {
-	lines := terms.Lines(text)
-	if len(lines) == 0 {
-		panic(badLine(0))
-	}
 	var b api.BattenBook
-	last := battenKind
-	for i, s := range lines {
-		l := readLine(badLine(i+1), s)
-		if (i == 0) != (l.kind() == battenKind) || l.kind() < last {
-			panic(badLine(i + 1))
-		}
-		last = l.kind()
+	for _, l := range terms.Read(text, readLine) {
 		switch x := l.(type) {
 		case battenLine:
 			b.Bend, b.Twist, b.Turns = x.bend, x.twist, x.turns
@@ -84,54 +59,14 @@ func readText(text string) api.BattenBook {
 	return b
 }
 
-// fields are the word of a line and its fields.
-type fields struct {
-	line  badLine
-	words []string
-}
-
-func readLine(number badLine, s string) textLine {
-	words, ok := terms.Fields(s)
-	if !ok {
-		panic(number)
-	}
-	f := fields{number, words}
-	switch f.kind() {
-	case battenKind:
-		return battenLine{f.number(1), f.number(2), f.number(3)}
-	case markKind:
-		return markLine{f.span(1)}
-	default:
-		return ruleLine{api.BattenRule{A: f.number(1), B: f.number(2), Rise: f.span(3)}}
-	}
-}
-
-// kind tells the kind of a line that has as many fields as one of that kind.
-func (f fields) kind() kind {
-	word, many := f.words[0], len(f.words)-1
+func readLine(l terms.Line) textLine {
 	switch {
-	case word == battenWord && many == 3:
-		return battenKind
-	case word == markWord && many == 1:
-		return markKind
-	case word == ruleWord && many == 3:
-		return ruleKind
+	case l.Is(battenWord, 3):
+		return battenLine{l.Number(1), l.Number(2), l.Number(3)}
+	case l.Is(markWord, 1):
+		return markLine{l.Span(1)}
+	case l.Is(ruleWord, 3):
+		return ruleLine{api.BattenRule{A: l.Number(1), B: l.Number(2), Rise: l.Span(3)}}
 	}
-	panic(f.line)
-}
-
-func (f fields) number(i int) int {
-	n, ok := terms.Number(f.words[i])
-	if !ok {
-		panic(f.line)
-	}
-	return n
-}
-
-func (f fields) span(i int) api.Span {
-	x, ok := terms.Span(f.words[i])
-	if !ok {
-		panic(f.line)
-	}
-	return x
+	panic(l.Bad())
 }

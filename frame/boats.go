@@ -3,7 +3,6 @@ package frame
 import (
 	"iter"
 
-	"ribband/api"
 	"ribband/terms"
 )
 
@@ -47,33 +46,3 @@ func (b book) agrees(x breadths) bool {
 
 // tally counts the boats by their breadths.
 func (c checked) tally() terms.Tally { return terms.TallyOf(c.boats(), c.list) }
-
-// span returns the span from the least to the greatest answer of all boats, if there are any.
-func (c checked) span(question func(breadths) int) (api.Span, api.Snag) {
-	x, found := spanOf(c.boats(), question)
-	if !found {
-		return api.Span{}, api.Foul
-	}
-	return x, api.Clear
-}
-
-// spanOf returns the span from the least to the greatest answer of all, if there are any.
-func spanOf[T any](all iter.Seq[T], question func(T) int) (api.Span, bool) {
-	var answers []api.Span
-	for x := range all {
-		n := question(x)
-		answers = append(answers, api.Span{Low: n, High: n})
-	}
-	if len(answers) == 0 {
-		return api.Span{}, false
-	}
-	return join(answers[0], answers[1:]...), true
-}
-
-// join returns the span from the least to the greatest number of spans.
-func join(x api.Span, others ...api.Span) api.Span {
-	for _, y := range others {
-		x = api.Span{Low: min(x.Low, y.Low), High: max(x.High, y.High)}
-	}
-	return x
-}

@@ -72,23 +72,10 @@ func IsBoat(t api.OffsetsTable, wrong []int, measures []int) (bool, api.Snag) {
 
 // claimSnag returns the snag of wrong cells and measures that are claimed to be a boat of so many cells.
 func claimSnag(cells int, wrong, measures []int) api.Snag {
-	for k, i := range wrong {
-		if i < 0 || i >= cells {
-			return api.Absent
-		}
-		if k > 0 && i <= wrong[k-1] {
-			return api.Turned
-		}
+	if s := terms.IndexesSnag(wrong, cells); s != api.Clear {
+		return s
 	}
-	if len(measures) != cells {
-		return api.Many
-	}
-	for _, measure := range measures {
-		if !isMeasure(measure) {
-			return api.Range
-		}
-	}
-	return api.Clear
+	return terms.NumbersSnag(measures, cells, api.Span{High: api.MaxOffsetsMeasure})
 }
 
 // Boats returns how many boats a table has.

@@ -4,6 +4,7 @@ import (
 	"slices"
 
 	"ribband/api"
+	"ribband/terms"
 )
 
 // kind is a kind of lines: waterlines, or buttocks.
@@ -131,7 +132,7 @@ func stationsSnag(names []string) api.Snag {
 		return api.Many
 	}
 	for i, name := range names {
-		if !isName(name) {
+		if !terms.IsName(name) {
 			return api.Name
 		}
 		if slices.Contains(names[:i], name) {
@@ -139,19 +140,6 @@ func stationsSnag(names []string) api.Snag {
 		}
 	}
 	return api.Clear
-}
-
-func isName(name string) bool {
-	if len(name) < 1 || len(name) > api.MaxName {
-		return false
-	}
-	for i, letter := range name {
-		digit := letter >= '0' && letter <= '9'
-		if (letter < 'a' || letter > 'z') && (i == 0 || !digit) {
-			return false
-		}
-	}
-	return true
 }
 
 func linesSnag(lines []api.OffsetsLine, stations int) api.Snag {

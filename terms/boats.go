@@ -7,12 +7,18 @@ import (
 	"ribband/api"
 )
 
+// First returns the first one, if there is one.
+func First[T any](all iter.Seq[T]) (first T, found bool) {
+	for x := range all {
+		return x, true
+	}
+	return first, false
+}
+
 // IsAny tells whether there is a boat.
 func IsAny[T any](boats iter.Seq[T]) bool {
-	for range boats {
-		return true
-	}
-	return false
+	_, found := First(boats)
+	return found
 }
 
 // IsAmong tells whether x is one of the boats.
@@ -38,6 +44,19 @@ func Sure[T any](boats iter.Seq[T], question func(T) bool) (api.Sure, api.Snag) 
 		return api.Open, api.Foul
 	}
 	return SureOf(many, all), api.Clear
+}
+
+// SpanOf returns the span from the least to the greatest answer to a question, unless there is no boat.
+func SpanOf[T any](boats iter.Seq[T], question func(T) int) (api.Span, api.Snag) {
+	var answers []api.Span
+	for boat := range boats {
+		n := question(boat)
+		answers = append(answers, api.Span{Low: n, High: n})
+	}
+	if len(answers) == 0 {
+		return api.Span{}, api.Foul
+	}
+	return Join(answers[0], answers[1:]...), api.Clear
 }
 
 // Best returns the first of those that no other one comes before, if there are any. What decides first is asked first.

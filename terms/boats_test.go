@@ -26,6 +26,34 @@ func TestIsAny(t *testing.T) {
 	}
 }
 
+func TestFirst(t *testing.T) {
+	if p, found := terms.First(slices.Values(boats)); p != boats[0] || !found {
+		t.Error(p, found)
+	}
+	if p, found := terms.First(slices.Values(boats[:0])); p != (pair{}) || found {
+		t.Error(p, found)
+	}
+}
+
+func TestSpanOf(t *testing.T) {
+	for i, x := range []struct {
+		boats    []pair
+		question func(pair) int
+		want     api.Span
+		s        api.Snag
+	}{
+		{boats, first, to(2, 3), api.Clear},
+		{boats, second, to(1, 5), api.Clear},
+		{boats[1:2], second, to(5, 5), api.Clear},
+		{boats, func(p pair) int { return -p[1] }, to(-5, -1), api.Clear},
+		{boats[:0], first, to(0, 0), api.Foul},
+	} {
+		if y, s := terms.SpanOf(slices.Values(x.boats), x.question); y != x.want || s != x.s {
+			t.Error(i, y, s)
+		}
+	}
+}
+
 func TestIsAmong(t *testing.T) {
 	for p, want := range map[pair]bool{{3, 1}: true, {2, 4}: true, {3, 5}: false, {1, 3}: false} {
 		if is := terms.IsAmong(slices.Values(boats), p); is != want {

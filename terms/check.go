@@ -28,13 +28,36 @@ func IsIndex(i, many int) bool { return i >= 0 && i < many }
 // IsOut tells whether a number is not from 0 to most.
 func IsOut(n, most int) bool { return n < 0 || n > most }
 
-// NumbersSnag returns the snag of a list that is to have so many numbers, each of them from 0 to most.
-func NumbersSnag(list []int, many, most int) api.Snag {
+// NumbersSnag returns the snag of a list that is to have so many numbers, each of them one of a span.
+func NumbersSnag(list []int, many int, x api.Span) api.Snag {
 	if len(list) != many {
 		return api.Many
 	}
-	if slices.ContainsFunc(list, func(n int) bool { return IsOut(n, most) }) {
+	if slices.ContainsFunc(list, func(n int) bool { return !Has(x, n) }) {
 		return api.Range
+	}
+	return api.Clear
+}
+
+// IndexesSnag returns the snag of a list that is to have indexes of so many elements, ascending.
+func IndexesSnag(list []int, many int) api.Snag {
+	for k, i := range list {
+		if !IsIndex(i, many) {
+			return api.Absent
+		}
+		if k > 0 && i <= list[k-1] {
+			return api.Turned
+		}
+	}
+	return api.Clear
+}
+
+// EachSnag returns the first snag of so many elements, in order.
+func EachSnag(many int, snag func(i int) api.Snag) api.Snag {
+	for i := range many {
+		if s := snag(i); s != api.Clear {
+			return s
+		}
 	}
 	return api.Clear
 }

@@ -56,15 +56,51 @@ func TestNumbersSnag(t *testing.T) {
 		{nil, 0, api.Clear},
 		{[]int{}, 0, api.Clear},
 		{nil, 1, api.Many},
-		{[]int{0, 9}, 2, api.Clear},
-		{[]int{0, 9}, 3, api.Many},
-		{[]int{0, 10}, 1, api.Many}, // how many there are comes first
-		{[]int{0, 10}, 2, api.Range},
-		{[]int{-1, 9}, 2, api.Range},
+		{[]int{1, 9}, 2, api.Clear},
+		{[]int{1, 9}, 3, api.Many},
+		{[]int{1, 10}, 1, api.Many}, // how many there are comes first
+		{[]int{1, 10}, 2, api.Range},
+		{[]int{0, 9}, 2, api.Range},
 		{[]int{most, -most - 1}, 2, api.Range},
 	} {
-		if s := terms.NumbersSnag(x.list, x.many, 9); s != x.want {
+		if s := terms.NumbersSnag(x.list, x.many, to(1, 9)); s != x.want {
 			t.Error(i, s)
+		}
+	}
+}
+
+func TestIndexesSnag(t *testing.T) {
+	for i, x := range []struct {
+		list []int
+		want api.Snag
+	}{
+		{nil, api.Clear},
+		{[]int{0, 1, 2}, api.Clear},
+		{[]int{1}, api.Clear},
+		{[]int{3}, api.Absent},
+		{[]int{-1}, api.Absent},
+		{[]int{1, 1}, api.Turned},
+		{[]int{1, 0, 3}, api.Turned}, // the first one that has a snag decides
+		{[]int{1, 3, 0}, api.Absent},
+		{[]int{1, -1}, api.Absent}, // and of its snags the first one
+		{[]int{0, 1, 2, 2}, api.Turned},
+		{[]int{most, -most - 1}, api.Absent},
+	} {
+		if s := terms.IndexesSnag(x.list, 3); s != x.want {
+			t.Error(i, s)
+		}
+	}
+	if s := terms.IndexesSnag([]int{0}, 0); s != api.Absent {
+		t.Error(s)
+	}
+}
+
+func TestEachSnag(t *testing.T) {
+	snags := []api.Snag{api.Clear, api.Clear, api.Form, api.Turned}
+	snag := func(i int) api.Snag { return snags[i] }
+	for many, want := range []api.Snag{api.Clear, api.Clear, api.Clear, api.Form, api.Form} {
+		if s := terms.EachSnag(many, snag); s != want {
+			t.Error(many, s)
 		}
 	}
 }

@@ -1,4 +1,4 @@
-// Package terms has what the sections Terms and Rules of shared/DOC.md say for all layers: spans, lists, how sure something is, and the fields of texts.
+// Package terms has what the sections Terms and Rules of shared/DOC.md say for all layers: spans, names, lists, checks, choices among boats, and texts.
 package terms
 
 import (
@@ -24,6 +24,28 @@ func Common(x, y api.Span) (api.Span, bool) {
 
 // Has tells whether a number is in a span.
 func Has(x api.Span, n int) bool { return x.Low <= n && n <= x.High }
+
+// Join returns the span from the least to the greatest number of spans.
+func Join(x api.Span, others ...api.Span) api.Span {
+	for _, y := range others {
+		x = api.Span{Low: min(x.Low, y.Low), High: max(x.High, y.High)}
+	}
+	return x
+}
+
+// IsName tells whether a string is a name.
+func IsName(name string) bool {
+	if len(name) < 1 || len(name) > api.MaxName {
+		return false
+	}
+	for i, letter := range name {
+		digit := letter >= '0' && letter <= '9'
+		if (letter < 'a' || letter > 'z') && (i == 0 || !digit) {
+			return false
+		}
+	}
+	return true
+}
 
 // SureOf tells how sure is what is so in many boats of all.
 func SureOf(many, all int) api.Sure {

@@ -49,6 +49,36 @@ func TestCommon(t *testing.T) {
 	}
 }
 
+func TestJoin(t *testing.T) {
+	for i, x := range []struct {
+		x      api.Span
+		others []api.Span
+		want   api.Span
+	}{
+		{to(3, 5), nil, to(3, 5)},
+		{to(3, 5), []api.Span{to(4, 4)}, to(3, 5)},
+		{to(3, 5), []api.Span{to(7, 9), to(-2, 1)}, to(-2, 9)},
+		{to(3, 5), []api.Span{to(2, 4), to(4, 6)}, to(2, 6)},
+	} {
+		if y := terms.Join(x.x, x.others...); y != x.want {
+			t.Error(i, y)
+		}
+	}
+}
+
+func TestIsName(t *testing.T) {
+	for _, name := range []string{"a", "z", "a0", "z9", "keel", "abcdefghij", "a000000000", "b2b"} {
+		if !terms.IsName(name) {
+			t.Error(name)
+		}
+	}
+	for _, name := range []string{"", "0", "9a", "A", "aB", "a b", "a\n", "a-", "a_", "a+", "a`", "a{", "a/", "a:", "\u00e9", "a\u0661", "a\xff", "a\x00", "abcdefghijk"} {
+		if terms.IsName(name) {
+			t.Error(name)
+		}
+	}
+}
+
 func TestSureOf(t *testing.T) {
 	if terms.SureOf(0, 3) != api.No || terms.SureOf(1, 3) != api.Open || terms.SureOf(2, 3) != api.Open || terms.SureOf(3, 3) != api.Yes {
 		t.Error("not as sure as it is")

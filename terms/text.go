@@ -11,6 +11,8 @@ import (
 const (
 	mostDigits = 9 // of a number in a field
 	between    = ".."
+	plus       = "+"
+	nothing    = "none"
 )
 
 // Lines returns the lines of a text, the last of which need not end with a line feed.
@@ -65,6 +67,34 @@ func SpanText(x api.Span) string {
 		return strconv.Itoa(x.Low)
 	}
 	return strconv.Itoa(x.Low) + between + strconv.Itoa(x.High)
+}
+
+// List reads a list in a field, of elements that are read one by one.
+func List[T any](field string, read func(string) (T, bool)) ([]T, bool) {
+	if field == nothing {
+		return nil, true
+	}
+	var list []T
+	for _, part := range strings.Split(field, plus) {
+		x, ok := read(part)
+		if !ok {
+			return nil, false
+		}
+		list = append(list, x)
+	}
+	return list, true
+}
+
+// ListText writes a list, of elements that are written one by one.
+func ListText[T any](list []T, write func(T) string) string {
+	if len(list) == 0 {
+		return nothing
+	}
+	var parts []string
+	for _, x := range list {
+		parts = append(parts, write(x))
+	}
+	return strings.Join(parts, plus)
 }
 
 // Text writes lines, each of which is a word and its fields.

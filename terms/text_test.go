@@ -2,6 +2,7 @@ package terms_test
 
 import (
 	"slices"
+	"strconv"
 	"testing"
 
 	"ribband/api"
@@ -68,6 +69,37 @@ func TestSpan(t *testing.T) {
 	for _, field := range []string{"", "..", "5..", "..5", "5..5", "5.6", "5...6", "5..6..7", "5..06", "05..6", "-0", "-0..1", "0..-0", "5-6", "5..1000000000", "5,6"} {
 		if x, ok := terms.Span(field); x != (api.Span{}) || ok {
 			t.Error(field, x, ok)
+		}
+	}
+}
+
+func TestList(t *testing.T) {
+	for field, want := range map[string][]int{"none": nil, "4": {4}, "4+0+-1": {4, 0, -1}, "7+7": {7, 7}} {
+		list, ok := terms.List(field, terms.Number)
+		if !slices.Equal(list, want) || !ok {
+			t.Error(field, list, ok)
+		}
+		if text := terms.ListText(list, strconv.Itoa); text != field {
+			t.Error(field, text)
+		}
+	}
+	for _, field := range []string{"", "+", "4+", "+4", "4++5", "4+none", "none+4", "nones", "None", "4,5", "4+05", "4+5..6", "4 5"} {
+		if list, ok := terms.List(field, terms.Number); len(list) > 0 || ok {
+			t.Error(field, list, ok)
+		}
+	}
+	for field, want := range map[string][]api.Span{"none": nil, "3": {to(3, 3)}, "0..1+3+8..5": {to(0, 1), to(3, 3), to(8, 5)}} {
+		list, ok := terms.List(field, terms.Span)
+		if !slices.Equal(list, want) || !ok {
+			t.Error(field, list, ok)
+		}
+		if text := terms.ListText(list, terms.SpanText); text != field {
+			t.Error(field, text)
+		}
+	}
+	for _, field := range []string{"0..1+3..3", "0..1+", "0..+1", "0..1+none"} {
+		if list, ok := terms.List(field, terms.Span); len(list) > 0 || ok {
+			t.Error(field, list, ok)
 		}
 	}
 }

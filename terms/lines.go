@@ -1,0 +1,87 @@
+package terms
+
+import "ribband/api"
+
+// BadLine is what the reading of a text panics with: the number of the first line that does not have its form, or is out of order.
+type BadLine int
+
+// Try reads a text, unless one of its lines is wrong.
+func Try[T any](text string, read func(text string) T) (x T, bad BadLine, ok bool) {
+	defer func() {
+		if number, wrong := recover().(BadLine); wrong {
+			bad = number
+		}
+	}()
+	return read(text), 0, true
+}
+
+// Ranked is a line that was read. Its rank tells what it can be behind: the first line, and no other one, has the rank 0, and no line is behind one of a greater rank.
+type Ranked interface{ Rank() int }
+
+// Read reads the lines of a text. It panics with the first one that is wrong.
+func Read[L Ranked](text string, read func(Line) L) []L {
+	var list []L
+	last := 0
+	for i, s := range Lines(text) {
+		number := BadLine(i + 1)
+		words, ok := Fields(s)
+		if !ok {
+			panic(number)
+		}
+		l := read(Line{number, words})
+		if (i == 0) != (l.Rank() == 0) || l.Rank() < last {
+			panic(number)
+		}
+		last = l.Rank()
+		list = append(list, l)
+	}
+	if len(list) == 0 {
+		panic(BadLine(0))
+	}
+	return list
+}
+
+// Line is a line whose fields are read one by one: its number, its word (the field 0) and its fields. A field that does not have its form is a panic with the number.
+type Line struct {
+	number BadLine
+	words  []string
+}
+
+// Is tells whether a line has this word, and so many fields behind it.
+func (l Line) Is(word string, fields int) bool {
+	return l.words[0] == word && len(l.words)-1 == fields
+}
+
+// Bad returns what is panicked with if the line does not have its form.
+func (l Line) Bad() BadLine { return l.number }
+
+// Word returns a field, whatever it is.
+func (l Line) Word(i int) string { return l.words[i] }
+
+// Number reads a field that is a number.
+func (l Line) Number(i int) int { return field(l, i, Number) }
+
+// Span reads a field that is a span.
+func (l Line) Span(i int) api.Span { return field(l, i, Span) }
+
+// Numbers reads a field that is a list of numbers.
+func (l Line) Numbers(i int) []int { return fieldList(l, i, Number) }
+
+// Spans reads a field that is a list of spans.
+func (l Line) Spans(i int) []api.Span { return fieldList(l, i, Span) }
+
+func field[T any](l Line, i int, read func(string) (T, bool)) T {
+	x, ok := read(l.words[i])
+	if !ok {
+		panic(l.number)
+	}
+	return x
+}
+
+func fieldList[T any](l Line, i int, read func(string) (T, bool)) []T {
+	list, ok := List(l.words[i], read)
+	if !ok {
+		panic(l.number)
+	}
+	return list
+}

@@ -1,0 +1,77 @@
+package terms_test
+
+import (
+	"slices"
+	"testing"
+
+	"ribband/api"
+	"ribband/terms"
+)
+
+// read is a line of a text of three kinds, which have the ranks 0, 1 and 3.
+type read struct {
+	rank int
+	word string
+	list []int
+	x    []api.Span
+}
+
+func (r read) Rank() int { return r.rank }
+
+func readLine(l terms.Line) read {
+	switch {
+	case l.Is("head", 1):
+		return read{rank: 0, list: []int{l.Number(1)}}
+	case l.Is("one", 2):
+		return read{rank: 1, word: l.Word(1), x: []api.Span{l.Span(2)}}
+	case l.Is("two", 2):
+		return read{rank: 3, list: l.Numbers(1), x: l.Spans(2)}
+	}
+	panic(l.Bad())
+}
+
+func readAll(text string) []read { return terms.Read(text, readLine) }
+
+func TestRead(t *testing.T) {
+	list, bad, ok := terms.Try("head 7\none a! 2..3\none b 4\ntwo 5+6 none\ntwo none 1..2+3", readAll)
+	want := []read{
+		{0, "", []int{7}, nil},
+		{1, "a!", nil, []api.Span{to(2, 3)}},
+		{1, "b", nil, []api.Span{to(4, 4)}},
+		{3, "", []int{5, 6}, nil},
+		{3, "", nil, []api.Span{to(1, 2), to(3, 3)}},
+	}
+	equal := func(a, b read) bool {
+		return a.rank == b.rank && a.word == b.word && slices.Equal(a.list, b.list) && slices.Equal(a.x, b.x)
+	}
+	if !slices.EqualFunc(list, want, equal) || bad != 0 || !ok {
+		t.Error(list, bad, ok)
+	}
+}
+
+func TestReadBad(t *testing.T) {
+	for text, want := range map[string]terms.BadLine{
+		"":                            0,
+		"\n":                          1,
+		"one a 2\n":                   1, // the first line is a head
+		"head 7\nhead 7\n":            2, // and no other one is
+		"head 7\ntwo 1 1\none a 2\n":  3,
+		"head 7\ntwo 1 1\nhead 7\n":   3,
+		"head 7\n\n":                  2,
+		"head 7\none  2\n":            2,
+		"head 7\none a\n":             2,
+		"head 7\none a 2 3\n":         2,
+		"head 7\none a 2..2\n":        2,
+		"head 7\ntwo 1+ 1\n":          2,
+		"head 7\ntwo 1 1+\n":          2,
+		"head 7\ntwo 1 1\nthree 1 1":  3,
+		"head x\none\n":               1, // the first one that is wrong decides
+		"one a 2\nhead x\n":           1,
+		"head 7\none a x\nhead 7\n":   2,
+		"head 7\none a 2\none b 3 \n": 3,
+	} {
+		if list, bad, ok := terms.Try(text, readAll); len(list) > 0 || bad != want || ok {
+			t.Errorf("%q: %v %v %v", text, list, bad, ok)
+		}
+	}
+}
