@@ -1,0 +1,73 @@
+package mould
+
+import (
+	"iter"
+	"slices"
+
+	"ribband/api"
+	"ribband/terms"
+)
+
+// lengths has the length of each piece. What is behind the last piece is 0.
+type lengths [api.MaxMouldPieces]int
+
+func (l lengths) total() int {
+	sum := 0
+	for _, long := range l {
+		sum += long
+	}
+	return sum
+}
+
+// boats yields all boats, the least list first.
+func (c checked) boats() iter.Seq[lengths] {
+	return func(yield func(lengths) bool) {
+		var l lengths
+		var fill func(piece int) bool
+		fill = func(piece int) bool {
+			if piece == len(c.Pieces) {
+				return !c.agrees(l) || yield(l)
+			}
+			x := c.Pieces[piece].Length
+			for long := x.Low; long <= x.High; long++ {
+				l[piece] = long
+				if !fill(piece + 1) {
+					return false
+				}
+			}
+			return true
+		}
+		fill(0)
+	}
+}
+
+// agrees tells whether all tapes are right about lengths.
+func (b book) agrees(l lengths) bool {
+	return !slices.ContainsFunc(b.Tapes, func(t api.MouldTape) bool {
+		sum := 0
+		for _, piece := range t.Pieces {
+			sum += l[piece]
+		}
+		return !terms.Has(t.Sum, sum)
+	})
+}
+
+// tally counts the boats by their lengths.
+func (c checked) tally() terms.Tally { return terms.TallyOf(c.boats(), c.list) }
+
+// list returns the lengths of all pieces.
+func (b book) list(l lengths) []int { return slices.Clone(l[:len(b.Pieces)]) }
+
+// greatest returns, for each piece, the greatest length that it has in a boat, unless there is no boat.
+func (c checked) greatest() (lengths, api.Snag) {
+	var most lengths
+	for boat := range c.boats() {
+		for piece, long := range boat {
+			most[piece] = max(most[piece], long)
+		}
+	}
+	if most == (lengths{}) {
+		return lengths{}, api.Foul
+	}
+	return most, api.Clear
+}
