@@ -15,23 +15,11 @@ const (
 // line has the height of each station. What is behind the last station is 0.
 type line [api.MaxBattenStations]int
 
-// steps returns by how much each number is above the one before it.
-func steps(list []int) []int {
-	out := make([]int, max(len(list), 1)-1)
-	for i := range out {
-		out[i] = list[i+1] - list[i]
-	}
-	return out
-}
+func twistsOf(heights []int) []int { return terms.Steps(terms.Bends(heights)) }
 
-// bendsOf returns by how much a line rises more behind a station than before it: that is the bend there.
-func bendsOf(heights []int) []int { return steps(steps(heights)) }
-
-func twistsOf(bends []int) []int { return steps(bends) }
-
-func turnsOf(bends []int) int {
+func turnsOf(heights []int) int {
 	turns, last := 0, 0
-	for _, bend := range bends {
+	for _, bend := range terms.Bends(heights) {
 		if bend == 0 {
 			continue
 		}
@@ -45,13 +33,7 @@ func turnsOf(bends []int) int {
 
 // bears tells whether the batten can be bent like this. If it can not, it can not, either, as the beginning of a longer line.
 func (b book) bears(heights []int) bool {
-	bends := bendsOf(heights)
-	return allWithin(bends, b.Bend) && allWithin(twistsOf(bends), b.Twist) && turnsOf(bends) <= b.Turns
-}
-
-// allWithin tells whether no number is above most, or below -most.
-func allWithin(list []int, most int) bool {
-	return !slices.ContainsFunc(list, func(n int) bool { return n > most || n < -most })
+	return terms.AllWithin(terms.Bends(heights), b.Bend) && terms.AllWithin(twistsOf(heights), b.Twist) && turnsOf(heights) <= b.Turns
 }
 
 // obeys tells whether the rules are right that end at a station of a line.
@@ -64,7 +46,7 @@ func (b book) obeys(l line, station int) bool {
 // strain is the sum of the squares of the bends.
 func (b book) strain(l line) int {
 	sum := 0
-	for _, bend := range bendsOf(b.heights(l)) {
+	for _, bend := range terms.Bends(b.heights(l)) {
 		sum += bend * bend
 	}
 	return sum
@@ -77,7 +59,7 @@ func (b book) heights(l line) []int { return slices.Clone(l[:len(b.Marks)]) }
 type inside int
 
 func (i inside) hollow(l line) bool {
-	return bendsOf(l[i-1 : i+2])[0] > 0
+	return terms.Bends(l[i-1 : i+2])[0] > 0
 }
 
 // floor is where boats are held against a line with so many stations.

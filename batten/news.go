@@ -10,11 +10,7 @@ import (
 
 // with returns the book with just these of its rules.
 func (c checked) with(rules []int) checked {
-	var some []api.BattenRule
-	for _, i := range rules {
-		some = append(some, c.Rules[i])
-	}
-	c.Rules = some
+	c.Rules = terms.Pick(c.Rules, rules)
 	return c
 }
 

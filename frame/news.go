@@ -25,16 +25,8 @@ func (b book) split(numbers []int) (tapes, sticks []int) {
 
 // with returns the book with just these of its tapes and sticks.
 func (c checked) with(numbers []int) checked {
-	var tapes []api.FrameTape
-	var sticks []api.FrameStick
-	some, others := c.split(numbers)
-	for _, i := range some {
-		tapes = append(tapes, c.Tapes[i])
-	}
-	for _, i := range others {
-		sticks = append(sticks, c.Sticks[i])
-	}
-	c.Tapes, c.Sticks = tapes, sticks
+	tapes, sticks := c.split(numbers)
+	c.Tapes, c.Sticks = terms.Pick(c.Tapes, tapes), terms.Pick(c.Sticks, sticks)
 	return c
 }
 

@@ -9,11 +9,7 @@ import (
 
 // with returns the book with just these of its tapes.
 func (c checked) with(tapes []int) checked {
-	var some []api.MouldTape
-	for _, i := range tapes {
-		some = append(some, c.Tapes[i])
-	}
-	c.Tapes = some
+	c.Tapes = terms.Pick(c.Tapes, tapes)
 	return c
 }
 

@@ -105,13 +105,16 @@ func TestTally(t *testing.T) {
 		}
 	}
 	for i, want := range [][]int{{2, 3}, {1, 4, 5}, nil} {
-		if l := sum.Numbers(i); !slices.Equal(l, want) {
-			t.Error(i, l)
+		if l, s := sum.Numbers(i); !slices.Equal(l, want) || s != api.Clear {
+			t.Error(i, l, s)
 		}
 	}
 	none := terms.TallyOf(slices.Values(boats[:0]), list)
-	if n, l := none.Boats(), none.Numbers(0); n != 0 || len(l) > 0 {
-		t.Error(n, l)
+	if n := none.Boats(); n != 0 {
+		t.Error(n)
+	}
+	if l, s := none.Numbers(0); len(l) > 0 || s != api.Foul {
+		t.Error(l, s)
 	}
 }
 
@@ -120,17 +123,19 @@ func TestAsk(t *testing.T) {
 		boats    []pair
 		many     int
 		at, left int
+		s        api.Snag
 	}{
-		{boats, 2, 1, 2},
-		{boats, 1, 0, 3},
-		{boats[:2], 2, 0, 1},  // both would do
-		{boats[2:], 2, -1, 2}, // nothing is open
-		{[]pair{{1, 1}, {1, 2}, {2, 1}, {2, 1}}, 2, 0, 2},
-		{[]pair{{5, 1}, {5, 2}}, 2, 1, 1},
-		{boats[:1], 2, -1, 1},
+		{boats, 2, 1, 2, api.Clear},
+		{boats, 1, 0, 3, api.Clear},
+		{boats[:2], 2, 0, 1, api.Clear},  // both would do
+		{boats[2:], 2, -1, 2, api.Clear}, // nothing is open
+		{[]pair{{1, 1}, {1, 2}, {2, 1}, {2, 1}}, 2, 0, 2, api.Clear},
+		{[]pair{{5, 1}, {5, 2}}, 2, 1, 1, api.Clear},
+		{boats[:1], 2, -1, 1, api.Clear},
+		{boats[:0], 2, 0, 0, api.Foul},
 	} {
-		if at, left := terms.TallyOf(slices.Values(x.boats), list).Ask(x.many); at != x.at || left != x.left {
-			t.Error(i, at, left)
+		if at, left, s := terms.TallyOf(slices.Values(x.boats), list).Ask(x.many); at != x.at || left != x.left || s != x.s {
+			t.Error(i, at, left, s)
 		}
 	}
 }

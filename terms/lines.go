@@ -15,6 +15,22 @@ func Try[T any](text string, read func(text string) T) (x T, bad BadLine, ok boo
 	return read(text), 0, true
 }
 
+// Parse reads the text of a book, unless it is too long, one of its lines is wrong (then line is its number), or the book has a snag.
+func Parse[B any](text string, read func(text string) B, check func(B) api.Snag) (b B, line int, s api.Snag) {
+	var none B
+	if len(text) > api.MaxText {
+		return none, 0, api.Many
+	}
+	b, bad, ok := Try(text, read)
+	if !ok {
+		return none, int(bad), api.Form
+	}
+	if s := check(b); s != api.Clear {
+		return none, 0, s
+	}
+	return b, 0, api.Clear
+}
+
 // Ranked is a line that was read. Its rank tells what it can be behind: the first line, and no other one, has the rank 0, and no line is behind one of a greater rank.
 type Ranked interface{ Rank() int }
 

@@ -2,6 +2,7 @@ package terms_test
 
 import (
 	"slices"
+	"strings"
 	"testing"
 
 	"ribband/api"
@@ -72,6 +73,35 @@ func TestReadBad(t *testing.T) {
 	} {
 		if list, bad, ok := terms.Try(text, readAll); len(list) > 0 || bad != want || ok {
 			t.Errorf("%q: %v %v %v", text, list, bad, ok)
+		}
+	}
+}
+
+// A text that is too long comes first, then a wrong line, then the snag of what was read.
+func TestParse(t *testing.T) {
+	check := func(list []read) api.Snag {
+		if len(list) > 2 {
+			return api.Turned
+		}
+		return api.Clear
+	}
+	const good, wrong, long = "head 7\n", "head 7\none a 1\ntwo\n", "head 7\none a 1\none b 2\n"
+	for i, x := range []struct {
+		text       string
+		many, line int
+		s          api.Snag
+	}{
+		{good, 1, 0, api.Clear},
+		{good + "one a 1", 2, 0, api.Clear},
+		{"", 0, 0, api.Form},
+		{wrong, 0, 3, api.Form},
+		{long, 0, 0, api.Turned},
+		{long + "two\n", 0, 4, api.Form},
+		{good + strings.Repeat("x", api.MaxText-len(good)), 0, 2, api.Form},
+		{good + strings.Repeat("x", api.MaxText-len(good)+1), 0, 0, api.Many},
+	} {
+		if list, line, s := terms.Parse(x.text, readAll, check); len(list) != x.many || line != x.line || s != x.s {
+			t.Error(i, list, line, s)
 		}
 	}
 }

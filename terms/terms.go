@@ -47,6 +47,15 @@ func IsName(name string) bool {
 	return true
 }
 
+// Pick returns the elements of a list that have these indexes.
+func Pick[T any](list []T, indexes []int) []T {
+	var some []T
+	for _, i := range indexes {
+		some = append(some, list[i])
+	}
+	return some
+}
+
 // SureOf tells how sure is what is so in many boats of all.
 func SureOf(many, all int) api.Sure {
 	switch many {

@@ -79,6 +79,30 @@ func TestIsName(t *testing.T) {
 	}
 }
 
+func TestPick(t *testing.T) {
+	list := []string{"a", "b", "c"}
+	for i, x := range []struct {
+		indexes []int
+		want    []string
+	}{
+		{nil, nil},
+		{[]int{1}, []string{"b"}},
+		{[]int{0, 2}, []string{"a", "c"}},
+		{[]int{0, 1, 2}, list},
+	} {
+		got := terms.Pick(list, x.indexes)
+		if !slices.Equal(got, x.want) {
+			t.Error(i, got)
+		}
+		for k := range got {
+			got[k] = "z"
+		}
+	}
+	if !slices.Equal(list, []string{"a", "b", "c"}) {
+		t.Error("what is picked shares memory", list)
+	}
+}
+
 func TestSureOf(t *testing.T) {
 	if terms.SureOf(0, 3) != api.No || terms.SureOf(1, 3) != api.Open || terms.SureOf(2, 3) != api.Open || terms.SureOf(3, 3) != api.Yes {
 		t.Error("not as sure as it is")
