@@ -3,7 +3,6 @@ package mould
 import (
 	"iter"
 	"slices"
-	"sync"
 
 	"ribband/api"
 	"ribband/terms"
@@ -129,28 +128,16 @@ func (h bench) best(a aim) (cuts []api.MouldCut, much int, found bool) {
 	return h.cuts(x), all[a].of(x), true
 }
 
-// needed returns the boards without each of which by itself no cutting surely does. All are left out at once; in which order they are found makes no difference.
+// needed returns the boards without each of which by itself no cutting surely does. All are left out at once.
 func (h bench) needed() []int {
-	found := make(chan int, len(h.Boards))
-	var group sync.WaitGroup
+	var boards []int
 	for board := range h.Boards {
-		group.Add(1)
-		go func() {
-			defer group.Done()
-			if !terms.IsAny(h.cuttings(h.without(board))) {
-				found <- board
-			}
-		}()
+		boards = append(boards, board)
 	}
-	group.Wait()
-	close(found)
-	var list []int
-	for board := range found {
-		list = append(list, board)
-	}
-	slices.Sort(list)
-	return list
+	return terms.Which(boards, h.isNeeded)
 }
+
+func (h bench) isNeeded(board int) bool { return !terms.IsAny(h.cuttings(h.without(board))) }
 
 // without returns all boards but one.
 func (h bench) without(board int) []int {

@@ -3,6 +3,8 @@ package terms
 import (
 	"cmp"
 	"iter"
+	"slices"
+	"sync"
 
 	"ribband/api"
 )
@@ -29,6 +31,29 @@ func IsAmong[T comparable](boats iter.Seq[T], x T) bool {
 		}
 	}
 	return false
+}
+
+// Which returns those for which the answer to a question is yes, in their order. It is asked about all of them at once.
+func Which[T any](all []T, question func(T) bool) []T {
+	found := make(chan int, len(all))
+	var group sync.WaitGroup
+	for i, x := range all {
+		group.Add(1)
+		go func() {
+			defer group.Done()
+			if question(x) {
+				found <- i
+			}
+		}()
+	}
+	group.Wait()
+	close(found)
+	var indexes []int
+	for i := range found {
+		indexes = append(indexes, i)
+	}
+	slices.Sort(indexes)
+	return Pick(all, indexes)
 }
 
 // Sure returns how sure it is that the answer to a question is yes, unless there is no boat.

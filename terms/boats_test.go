@@ -62,6 +62,26 @@ func TestIsAmong(t *testing.T) {
 	}
 }
 
+func TestWhich(t *testing.T) {
+	odd := func(p pair) bool { return p[1]%2 != 0 }
+	if l := terms.Which(boats, odd); !slices.Equal(l, []pair{{3, 1}, {2, 5}}) {
+		t.Error(l)
+	}
+	if l := terms.Which(boats[2:], odd); len(l) > 0 {
+		t.Error(l)
+	}
+	if l := terms.Which(boats[:0], odd); len(l) > 0 {
+		t.Error(l)
+	}
+	var numbers []int
+	for n := range 1000 {
+		numbers = append(numbers, n)
+	}
+	if l := terms.Which(numbers, func(n int) bool { return n != 500 }); !slices.Equal(l, slices.Delete(numbers, 500, 501)) {
+		t.Error(l)
+	}
+}
+
 func TestSure(t *testing.T) {
 	above := func(n int) func(pair) bool { return func(p pair) bool { return p[0] > n } }
 	for n, want := range map[int]api.Sure{1: api.Yes, 2: api.Open, 3: api.No} {
