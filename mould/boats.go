@@ -11,13 +11,7 @@ import (
 // lengths has the length of each piece. What is behind the last piece is 0.
 type lengths [api.MaxMouldPieces]int
 
-func (l lengths) total() int {
-	sum := 0
-	for _, long := range l {
-		sum += long
-	}
-	return sum
-}
+func (l lengths) total() int { return terms.Sum(l[:]...) }
 
 // boats yields all boats, the least list first.
 func (c checked) boats() iter.Seq[lengths] {
@@ -44,11 +38,7 @@ func (c checked) boats() iter.Seq[lengths] {
 // agrees tells whether all tapes are right about lengths.
 func (b book) agrees(l lengths) bool {
 	return !slices.ContainsFunc(b.Tapes, func(t api.MouldTape) bool {
-		sum := 0
-		for _, piece := range t.Pieces {
-			sum += l[piece]
-		}
-		return !terms.Has(t.Sum, sum)
+		return !terms.Has(t.Sum, terms.Sum(terms.Pick(l[:], t.Pieces)...))
 	})
 }
 

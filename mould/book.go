@@ -107,16 +107,7 @@ func (b book) tapesSnag() api.Snag {
 
 func (b book) tapeSnag(i int) api.Snag {
 	t := b.Tapes[i]
-	if len(t.Pieces) == 0 {
-		return api.Many
-	}
-	if s := terms.IndexesSnag(t.Pieces, len(b.Pieces)); s != api.Clear {
-		return s
-	}
-	if !terms.IsSpan(t.Sum, 0, api.MaxMouldSum) {
-		return api.Range
-	}
-	return api.Clear
+	return terms.SumSnag(t.Pieces, len(b.Pieces), t.Sum, api.MaxMouldSum)
 }
 
 // cutsSnag returns the snag of a cutting.

@@ -15,12 +15,8 @@ func (c checked) with(tapes []int) checked {
 
 // clash returns the first list of tapes with which alone there is no boat; none if there is a boat.
 func (c checked) clash() []int {
-	for list := range terms.Lists(len(c.Tapes), len(c.Tapes)) {
-		if !terms.IsAny(c.with(list).boats()) {
-			return list
-		}
-	}
-	return nil
+	tapes, _ := terms.Clash(len(c.Tapes), func(some []int) bool { return terms.IsAny(c.with(some).boats()) })
+	return tapes
 }
 
 // copyOf returns a book in memory of its own.

@@ -21,12 +21,7 @@ func (c checked) with(marks []int) checked {
 
 // clash returns the first list of marks with which alone there is no boat, if there is one.
 func (c checked) clash() (marks []int, found bool) {
-	for list := range terms.Lists(len(c.Marks), len(c.Marks)) {
-		if len(c.with(list).boats()) == 0 {
-			return list, true
-		}
-	}
-	return nil, false
+	return terms.Clash(len(c.Marks), func(some []int) bool { return len(c.with(some).boats()) > 0 })
 }
 
 // copyOf returns a book in memory of its own.

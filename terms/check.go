@@ -52,6 +52,20 @@ func IndexesSnag(list []int, many int) api.Snag {
 	return api.Clear
 }
 
+// SumSnag returns the snag of what says that some of so many elements are a sum together, which is at most so much.
+func SumSnag(indexes []int, many int, sum api.Span, most int) api.Snag {
+	if len(indexes) == 0 {
+		return api.Many
+	}
+	if s := IndexesSnag(indexes, many); s != api.Clear {
+		return s
+	}
+	if !IsSpan(sum, 0, most) {
+		return api.Range
+	}
+	return api.Clear
+}
+
 // EachSnag returns the first snag of so many elements, in order.
 func EachSnag(many int, snag func(i int) api.Snag) api.Snag {
 	for i := range many {

@@ -104,3 +104,26 @@ func TestEachSnag(t *testing.T) {
 		}
 	}
 }
+
+// Whether there is anything comes first, then the elements, then the sum.
+func TestSumSnag(t *testing.T) {
+	for i, x := range []struct {
+		indexes []int
+		sum     api.Span
+		want    api.Snag
+	}{
+		{[]int{0, 2}, to(0, 9), api.Clear},
+		{[]int{1}, to(9, 9), api.Clear},
+		{nil, to(0, 9), api.Many},
+		{[]int{}, to(5, 4), api.Many},
+		{[]int{0, 3}, to(5, 4), api.Absent},
+		{[]int{2, 0}, to(5, 4), api.Turned},
+		{[]int{0, 2}, to(5, 4), api.Range},
+		{[]int{0, 2}, to(-1, 4), api.Range},
+		{[]int{0, 2}, to(5, 10), api.Range},
+	} {
+		if s := terms.SumSnag(x.indexes, 3, x.sum, 9); s != x.want {
+			t.Error(i, s)
+		}
+	}
+}

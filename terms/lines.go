@@ -1,18 +1,25 @@
 package terms
 
-import "ribband/api"
+import (
+	"errors"
+	"strconv"
 
-// BadLine is what the reading of a text panics with: the number of the first line that does not have its form, or is out of order.
+	"ribband/api"
+)
+
+// BadLine is the error of a text, with which its reading panics: the number of the first line that does not have its form, or is out of order.
 type BadLine int
 
+func (b BadLine) Error() string { return "line " + strconv.Itoa(int(b)) + " has no form" }
+
 // Try reads a text, unless one of its lines is wrong.
-func Try[T any](text string, read func(text string) T) (x T, bad BadLine, ok bool) {
+func Try[T any](text string, read func(text string) T) (x T, err error) {
 	defer func() {
-		if number, wrong := recover().(BadLine); wrong {
-			bad = number
+		if bad, wrong := recover().(BadLine); wrong {
+			err = bad
 		}
 	}()
-	return read(text), 0, true
+	return read(text), nil
 }
 
 // Parse reads the text of a book, unless it is too long, one of its lines is wrong (then line is its number), or the book has a snag.
@@ -21,8 +28,9 @@ func Parse[B any](text string, read func(text string) B, check func(B) api.Snag)
 	if len(text) > api.MaxText {
 		return none, 0, api.Many
 	}
-	b, bad, ok := Try(text, read)
-	if !ok {
+	b, err := Try(text, read)
+	var bad BadLine
+	if errors.As(err, &bad) {
 		return none, int(bad), api.Form
 	}
 	if s := check(b); s != api.Clear {

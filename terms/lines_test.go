@@ -1,6 +1,7 @@
 package terms_test
 
 import (
+	"errors"
 	"slices"
 	"strings"
 	"testing"
@@ -34,7 +35,7 @@ func readLine(l terms.Line) read {
 func readAll(text string) []read { return terms.Read(text, readLine) }
 
 func TestRead(t *testing.T) {
-	list, bad, ok := terms.Try("head 7\none a! 2..3\none b 4\ntwo 5+6 none\ntwo none 1..2+3", readAll)
+	list, err := terms.Try("head 7\none a! 2..3\none b 4\ntwo 5+6 none\ntwo none 1..2+3", readAll)
 	want := []read{
 		{0, "", []int{7}, nil},
 		{1, "a!", nil, []api.Span{to(2, 3)}},
@@ -45,8 +46,8 @@ func TestRead(t *testing.T) {
 	equal := func(a, b read) bool {
 		return a.rank == b.rank && a.word == b.word && slices.Equal(a.list, b.list) && slices.Equal(a.x, b.x)
 	}
-	if !slices.EqualFunc(list, want, equal) || bad != 0 || !ok {
-		t.Error(list, bad, ok)
+	if !slices.EqualFunc(list, want, equal) || err != nil {
+		t.Error(list, err)
 	}
 }
 
@@ -71,8 +72,9 @@ func TestReadBad(t *testing.T) {
 		"head 7\none a x\nhead 7\n":   2,
 		"head 7\none a 2\none b 3 \n": 3,
 	} {
-		if list, bad, ok := terms.Try(text, readAll); len(list) > 0 || bad != want || ok {
-			t.Errorf("%q: %v %v %v", text, list, bad, ok)
+		var bad terms.BadLine
+		if list, err := terms.Try(text, readAll); len(list) > 0 || !errors.As(err, &bad) || bad != want {
+			t.Errorf("%q: %v %v", text, list, err)
 		}
 	}
 }

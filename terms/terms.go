@@ -56,6 +56,15 @@ func Pick[T any](list []T, indexes []int) []T {
 	return some
 }
 
+// Sum returns what numbers are together.
+func Sum(numbers ...int) int {
+	sum := 0
+	for _, n := range numbers {
+		sum += n
+	}
+	return sum
+}
+
 // SureOf tells how sure is what is so in many boats of all.
 func SureOf(many, all int) api.Sure {
 	switch many {
@@ -88,4 +97,14 @@ func Lists(n, most int) iter.Seq[[]int] {
 			}
 		}
 	}
+}
+
+// Clash returns the first one of the lists of indexes below n with which alone there is no boat, if there is one: the fewest indexes, and of several lists the least one.
+func Clash(n int, isBoat func(list []int) bool) (list []int, found bool) {
+	for list := range Lists(n, n) {
+		if !isBoat(list) {
+			return list, true
+		}
+	}
+	return nil, false
 }

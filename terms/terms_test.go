@@ -103,6 +103,12 @@ func TestPick(t *testing.T) {
 	}
 }
 
+func TestSum(t *testing.T) {
+	if terms.Sum() != 0 || terms.Sum(7) != 7 || terms.Sum(7, -2, 0, 5) != 10 {
+		t.Error("not what numbers are together")
+	}
+}
+
 func TestSureOf(t *testing.T) {
 	if terms.SureOf(0, 3) != api.No || terms.SureOf(1, 3) != api.Open || terms.SureOf(2, 3) != api.Open || terms.SureOf(3, 3) != api.Yes {
 		t.Error("not as sure as it is")
@@ -134,5 +140,32 @@ func TestLists(t *testing.T) {
 	}
 	if many != 7 {
 		t.Error(many)
+	}
+}
+
+// The fewest indexes decide, and then the least list.
+func TestClash(t *testing.T) {
+	for i, x := range []struct {
+		n     int
+		foul  [][]int // lists with which, or more, there is no boat
+		want  []int
+		found bool
+	}{
+		{0, nil, nil, false},
+		{3, nil, nil, false},
+		{3, [][]int{nil}, nil, true},
+		{0, [][]int{nil}, nil, true},
+		{3, [][]int{{0, 1}, {2}}, []int{2}, true},
+		{3, [][]int{{1, 2}, {0, 2}}, []int{0, 2}, true},
+		{3, [][]int{{0, 1, 2}}, []int{0, 1, 2}, true},
+	} {
+		isBoat := func(list []int) bool {
+			return !slices.ContainsFunc(x.foul, func(foul []int) bool {
+				return !slices.ContainsFunc(foul, func(n int) bool { return !slices.Contains(list, n) })
+			})
+		}
+		if list, found := terms.Clash(x.n, isBoat); !slices.Equal(list, x.want) || found != x.found {
+			t.Error(i, list, found)
+		}
 	}
 }
