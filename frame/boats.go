@@ -3,29 +3,28 @@ package frame
 import (
 	"iter"
 
+	"ribband/api"
 	"ribband/terms"
 )
 
 // boats yields all boats, the least list first.
 func (c checked) boats() iter.Seq[breadths] {
 	return func(yield func(breadths) bool) {
-		var x breadths
-		var fill func(point int) bool
-		fill = func(point int) bool {
-			if point == len(c.Points) {
-				return !c.agrees(x) || yield(x)
+		for list := range terms.Choices(c.spans()...) {
+			if x := breadthsOf(list); c.agrees(x) && !yield(x) {
+				return
 			}
-			span := c.Points[point].Breadth
-			for breadth := span.Low; breadth <= span.High; breadth++ {
-				x[point] = breadth
-				if !fill(point + 1) {
-					return false
-				}
-			}
-			return true
 		}
-		fill(0)
 	}
+}
+
+// spans returns the breadths that each point can have.
+func (b book) spans() []api.Span {
+	var list []api.Span
+	for _, p := range b.Points {
+		list = append(list, p.Breadth)
+	}
+	return list
 }
 
 // agrees tells whether all tapes and sticks are right about breadths.

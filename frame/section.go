@@ -10,6 +10,12 @@ import (
 // breadths has the breadth of each point. What is behind the last point is 0.
 type breadths [api.MaxFramePoints]int
 
+func breadthsOf(list []int) breadths {
+	var x breadths
+	copy(x[:], list)
+	return x
+}
+
 // list returns the breadths of all points of a frame.
 func (b book) list(x breadths) []int { return slices.Clone(x[:len(b.Points)]) }
 

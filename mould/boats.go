@@ -11,28 +11,32 @@ import (
 // lengths has the length of each piece. What is behind the last piece is 0.
 type lengths [api.MaxMouldPieces]int
 
+func lengthsOf(list []int) lengths {
+	var l lengths
+	copy(l[:], list)
+	return l
+}
+
 func (l lengths) total() int { return terms.Sum(l[:]...) }
 
 // boats yields all boats, the least list first.
 func (c checked) boats() iter.Seq[lengths] {
 	return func(yield func(lengths) bool) {
-		var l lengths
-		var fill func(piece int) bool
-		fill = func(piece int) bool {
-			if piece == len(c.Pieces) {
-				return !c.agrees(l) || yield(l)
+		for list := range terms.Choices(c.spans()...) {
+			if l := lengthsOf(list); c.agrees(l) && !yield(l) {
+				return
 			}
-			x := c.Pieces[piece].Length
-			for long := x.Low; long <= x.High; long++ {
-				l[piece] = long
-				if !fill(piece + 1) {
-					return false
-				}
-			}
-			return true
 		}
-		fill(0)
 	}
+}
+
+// spans returns the lengths that each piece can have.
+func (b book) spans() []api.Span {
+	var list []api.Span
+	for _, p := range b.Pieces {
+		list = append(list, p.Length)
+	}
+	return list
 }
 
 // agrees tells whether all tapes are right about lengths.

@@ -41,11 +41,16 @@ func NumbersSnag(list []int, many int, x api.Span) api.Snag {
 
 // IndexesSnag returns the snag of a list that is to have indexes of so many elements, ascending.
 func IndexesSnag(list []int, many int) api.Snag {
-	for k, i := range list {
-		if !IsIndex(i, many) {
+	return AscendingSnag(list, api.Span{High: many - 1})
+}
+
+// AscendingSnag returns the snag of a list that is to have numbers of a span, ascending, and none that is not there.
+func AscendingSnag(list []int, x api.Span) api.Snag {
+	for i, n := range list {
+		if !Has(x, n) {
 			return api.Absent
 		}
-		if k > 0 && i <= list[k-1] {
+		if i > 0 && n <= list[i-1] {
 			return api.Turned
 		}
 	}

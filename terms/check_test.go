@@ -105,6 +105,30 @@ func TestEachSnag(t *testing.T) {
 	}
 }
 
+func TestAscendingSnag(t *testing.T) {
+	for i, x := range []struct {
+		list []int
+		want api.Snag
+	}{
+		{nil, api.Clear},
+		{[]int{1, 2, 5}, api.Clear},
+		{[]int{0}, api.Absent},
+		{[]int{2, 6}, api.Absent},
+		{[]int{2, 2}, api.Turned},
+		{[]int{4, 2, 9}, api.Turned},
+		{[]int{4, 9, 2}, api.Absent},
+		{[]int{-most - 1}, api.Absent},
+		{[]int{most}, api.Absent},
+	} {
+		if s := terms.AscendingSnag(x.list, to(1, 5)); s != x.want {
+			t.Error(i, s)
+		}
+	}
+	if s := terms.AscendingSnag([]int{1}, to(1, 0)); s != api.Absent {
+		t.Error(s)
+	}
+}
+
 // Whether there is anything comes first, then the elements, then the sum.
 func TestSumSnag(t *testing.T) {
 	for i, x := range []struct {

@@ -99,6 +99,27 @@ func Lists(n, most int) iter.Seq[[]int] {
 	}
 }
 
+// Choices yields the lists that have a number of each span, the least one first.
+func Choices(spans ...api.Span) iter.Seq[[]int] {
+	return func(yield func([]int) bool) {
+		list := make([]int, len(spans))
+		var fill func(i int) bool
+		fill = func(i int) bool {
+			if i == len(spans) {
+				return yield(slices.Clone(list))
+			}
+			for n := spans[i].Low; n <= spans[i].High; n++ {
+				list[i] = n
+				if !fill(i + 1) {
+					return false
+				}
+			}
+			return true
+		}
+		fill(0)
+	}
+}
+
 // Clash returns the first one of the lists of indexes below n with which alone there is no boat, if there is one: the fewest indexes, and of several lists the least one.
 func Clash(n int, isBoat func(list []int) bool) (list []int, found bool) {
 	for list := range Lists(n, n) {

@@ -169,3 +169,30 @@ func TestClash(t *testing.T) {
 		}
 	}
 }
+
+func TestChoices(t *testing.T) {
+	for i, x := range []struct {
+		spans []api.Span
+		want  [][]int
+	}{
+		{nil, [][]int{nil}},
+		{[]api.Span{to(3, 3)}, [][]int{{3}}},
+		{[]api.Span{to(0, 1), to(-1, 1)}, [][]int{{0, -1}, {0, 0}, {0, 1}, {1, -1}, {1, 0}, {1, 1}}},
+		{[]api.Span{to(0, 1), to(2, 1)}, nil},
+	} {
+		if got := slices.Collect(terms.Choices(x.spans...)); !slices.EqualFunc(got, x.want, slices.Equal) {
+			t.Error(i, got)
+		}
+	}
+	var got [][]int
+	for list := range terms.Choices(to(1, 2), to(3, 4)) {
+		got = append(got, slices.Clone(list))
+		list[0], list[1] = 7, 7 // what is yielded is in memory of its own
+		if len(got) == 3 {
+			break
+		}
+	}
+	if !slices.EqualFunc(got, [][]int{{1, 3}, {1, 4}, {2, 3}}, slices.Equal) {
+		t.Error(got)
+	}
+}
