@@ -1,0 +1,100 @@
+package butt
+
+import (
+	"strconv"
+
+	"ribband/api"
+	"ribband/terms"
+)
+
+// The ranks of lines, in the order of a text.
+const (
+	buttRank = iota
+	kindRank
+	noteRank
+)
+
+const (
+	buttWord = "butt"
+	kindWord = "kind"
+	noteWord = "note"
+)
+
+// lineKind is a kind of lines: its word, how many fields are behind it, and how they are read.
+type lineKind struct {
+	word   string
+	fields int
+	read   func(terms.Line) textLine
+}
+
+func lineKinds() []lineKind {
+	return []lineKind{
+		{buttWord, 5, readButt},
+		{kindWord, 3, readKind},
+		{noteWord, 2, readNote},
+	}
+}
+
+// textLine is a line of a text.
+type textLine interface{ Rank() int }
+
+type (
+	buttLine struct{ frames, strakes, gap, between, least int }
+	kindLine struct{ kind api.ButtKind }
+	noteLine struct{ note api.ButtNote }
+)
+
+func (buttLine) Rank() int { return buttRank }
+func (kindLine) Rank() int { return kindRank }
+func (noteLine) Rank() int { return noteRank }
+
+func (b book) text() string {
+	head := []string{buttWord}
+	for _, n := range [...]int{b.Frames, b.Strakes, b.Gap, b.Between, b.Least} {
+		head = append(head, strconv.Itoa(n))
+	}
+	lines := [][]string{head}
+	for _, k := range b.Kinds {
+		lines = append(lines, []string{kindWord, strconv.Itoa(k.Long), strconv.Itoa(k.Cost), terms.SpanText(k.Many)})
+	}
+	for _, n := range b.Notes {
+		lines = append(lines, []string{noteWord, terms.ListText(n.Kinds, strconv.Itoa), terms.SpanText(n.Sum)})
+	}
+	return terms.Text(lines)
+}
+
+func readText(text string) api.ButtBook {
+	var b api.ButtBook
+	for _, l := range terms.Read(text, readLine) {
+		switch x := l.(type) {
+		case buttLine:
+			b.Frames, b.Strakes, b.Gap, b.Between, b.Least = x.frames, x.strakes, x.gap, x.between, x.least
+		case kindLine:
+			b.Kinds = append(b.Kinds, x.kind)
+		case noteLine:
+			b.Notes = append(b.Notes, x.note)
+		}
+	}
+	return b
+}
+
+func readLine(l terms.Line) textLine {
+	for _, k := range lineKinds() {
+		if l.Is(k.word, k.fields) {
+			return k.read(l)
+		}
+	}
+	panic(l.Bad())
+}
+
+func readButt(l terms.Line) textLine {
+	return buttLine{l.Number(1), l.Number(2), l.Number(3), l.Number(4), l.Number(5)}
+}
+
+func readKind(l terms.Line) textLine {
+	return kindLine{api.ButtKind{Long: l.Number(1), Cost: l.Number(2), Many: l.Span(3)}}
+}
+
+func readNote(l terms.Line) textLine {
+	return noteLine{api.ButtNote{Kinds: l.Numbers(1), Sum: l.Span(2)}}
+}
