@@ -1,9 +1,8 @@
 package offsets
 
 import (
-	"cmp"
-
 	"ribband/api"
+	"ribband/terms"
 )
 
 // place is where it is asked within what the skin lies: at a station, at the height of a waterline, or at the distance of a buttock (butt).
@@ -11,20 +10,6 @@ type place struct {
 	checked
 	butt        bool
 	station, at int
-}
-
-func greatest[T cmp.Ordered](first T, rest ...T) T {
-	for _, x := range rest {
-		first = max(first, x)
-	}
-	return first
-}
-
-func least[T cmp.Ordered](first T, rest ...T) T {
-	for _, x := range rest {
-		first = min(first, x)
-	}
-	return first
 }
 
 // bounds returns within what the skin of a boat lies.
@@ -50,7 +35,7 @@ func (p place) bounds(b boat) api.Span {
 			upper = append(upper, x.at)
 		}
 	}
-	return api.Span{Low: greatest(0, lower...), High: least(api.MaxOffsetsMeasure, upper...)}
+	return api.Span{Low: terms.Highest(0, lower...), High: terms.Lowest(api.MaxOffsetsMeasure, upper...)}
 }
 
 // between returns the span from the least to the greatest bound of all boats, if there are any.
@@ -58,8 +43,8 @@ func (c checked) between(bounds func(boat) api.Span) (api.Span, bool) {
 	all, found := api.Span{Low: api.MaxOffsetsMeasure}, false
 	for b := range c.boats() {
 		one := bounds(b)
-		all.Low = least(all.Low, one.Low)
-		all.High = greatest(all.High, one.High)
+		all.Low = terms.Lowest(all.Low, one.Low)
+		all.High = terms.Highest(all.High, one.High)
 		found = true
 	}
 	return all, found

@@ -2,6 +2,7 @@
 package terms
 
 import (
+	"cmp"
 	"iter"
 	"slices"
 
@@ -31,6 +32,22 @@ func Join(x api.Span, others ...api.Span) api.Span {
 		x = api.Span{Low: min(x.Low, y.Low), High: max(x.High, y.High)}
 	}
 	return x
+}
+
+// Highest returns the greatest one of several.
+func Highest[T cmp.Ordered](first T, others ...T) T {
+	for _, x := range others {
+		first = max(first, x)
+	}
+	return first
+}
+
+// Lowest returns the least one of several.
+func Lowest[T cmp.Ordered](first T, others ...T) T {
+	for _, x := range others {
+		first = min(first, x)
+	}
+	return first
 }
 
 // IsName tells whether a string is a name.

@@ -66,6 +66,30 @@ func TestJoin(t *testing.T) {
 	}
 }
 
+func TestHighestLowest(t *testing.T) {
+	for i, x := range []struct {
+		list            []int
+		highest, lowest int
+	}{
+		{[]int{4}, 4, 4},
+		{[]int{-4}, -4, -4},
+		{[]int{4, 2}, 4, 2},
+		{[]int{2, 4}, 4, 2},
+		{[]int{3, -1, 7, 7, 0}, 7, -1},
+		{[]int{-3, -1, -2}, -1, -3},
+	} {
+		if n := terms.Highest(x.list[0], x.list[1:]...); n != x.highest {
+			t.Error(i, n)
+		}
+		if n := terms.Lowest(x.list[0], x.list[1:]...); n != x.lowest {
+			t.Error(i, n)
+		}
+	}
+	if a, b := terms.Highest("keel", "rib"), terms.Lowest("keel", "rib"); a != "rib" || b != "keel" {
+		t.Error(a, b)
+	}
+}
+
 func TestIsName(t *testing.T) {
 	for _, name := range []string{"a", "z", "a0", "z9", "keel", "abcdefghij", "a000000000", "b2b"} {
 		if !terms.IsName(name) {
