@@ -34,7 +34,7 @@ func (markLine) Rank() int   { return markRank }
 func (ruleLine) Rank() int   { return ruleRank }
 
 func (b book) text() string {
-	lines := [][]string{{battenWord, strconv.Itoa(b.Bend), strconv.Itoa(b.Twist), strconv.Itoa(b.Turns)}}
+	lines := [][]string{terms.Words(battenWord, b.Bend, b.Twist, b.Turns)}
 	for _, mark := range b.Marks {
 		lines = append(lines, []string{markWord, terms.SpanText(mark)})
 	}

@@ -49,11 +49,7 @@ func (kindLine) Rank() int { return kindRank }
 func (noteLine) Rank() int { return noteRank }
 
 func (b book) text() string {
-	head := []string{buttWord}
-	for _, n := range [...]int{b.Frames, b.Strakes, b.Gap, b.Between, b.Least} {
-		head = append(head, strconv.Itoa(n))
-	}
-	lines := [][]string{head}
+	lines := [][]string{terms.Words(buttWord, b.Frames, b.Strakes, b.Gap, b.Between, b.Least)}
 	for _, k := range b.Kinds {
 		lines = append(lines, []string{kindWord, strconv.Itoa(k.Long), strconv.Itoa(k.Cost), terms.SpanText(k.Many)})
 	}

@@ -69,7 +69,7 @@ func (tapeLine) kind() kind  { return tapeKind }
 func (stickLine) kind() kind { return stickKind }
 
 func (b book) text() string {
-	lines := [][]string{{frameWord, strconv.Itoa(b.Plank)}}
+	lines := [][]string{terms.Words(frameWord, b.Plank)}
 	for _, p := range b.Points {
 		lines = append(lines, []string{pointWord, strconv.Itoa(p.Height), terms.SpanText(p.Breadth)})
 	}

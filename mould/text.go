@@ -38,7 +38,7 @@ func (boardLine) Rank() int { return boardRank }
 func (tapeLine) Rank() int  { return tapeRank }
 
 func (b book) text() string {
-	lines := [][]string{{mouldWord, strconv.Itoa(b.Saw)}}
+	lines := [][]string{terms.Words(mouldWord, b.Saw)}
 	for _, p := range b.Pieces {
 		lines = append(lines, []string{pieceWord, p.Name, terms.SpanText(p.Length), strconv.Itoa(p.Bears)})
 	}

@@ -58,7 +58,7 @@ func (pointLine) Rank() int { return int(pointKind) }
 func (checkLine) Rank() int { return int(checkKind) }
 
 func (b book) text() string {
-	lines := [][]string{{spileWord, strconv.Itoa(b.Opening), strconv.Itoa(b.Slip)}}
+	lines := [][]string{terms.Words(spileWord, b.Opening, b.Slip)}
 	for _, p := range b.Points {
 		lines = append(lines, []string{pointWord, terms.SpanText(p.Mark), terms.SpanText(p.Board), strconv.Itoa(p.Width)})
 	}

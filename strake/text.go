@@ -48,11 +48,7 @@ func (girthLine) Rank() int  { return int(girthKind) }
 func (markLine) Rank() int   { return int(markKind) }
 
 func (b book) text() string {
-	head := []string{strakeWord}
-	for _, n := range [...]int{b.Strakes, b.Least, b.Most, b.Taper, b.Bend} {
-		head = append(head, strconv.Itoa(n))
-	}
-	lines := [][]string{head}
+	lines := [][]string{terms.Words(strakeWord, b.Strakes, b.Least, b.Most, b.Taper, b.Bend)}
 	for _, x := range b.Girths {
 		lines = append(lines, []string{girthWord, terms.SpanText(x)})
 	}

@@ -97,6 +97,15 @@ func ListText[T any](list []T, write func(T) string) string {
 	return strings.Join(parts, plus)
 }
 
+// Words returns the word of a line and its fields, all of which are numbers.
+func Words(word string, fields ...int) []string {
+	words := []string{word}
+	for _, n := range fields {
+		words = append(words, strconv.Itoa(n))
+	}
+	return words
+}
+
 // Text writes lines, each of which is a word and its fields.
 func Text(lines [][]string) string {
 	var text strings.Builder

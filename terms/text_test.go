@@ -104,6 +104,21 @@ func TestList(t *testing.T) {
 	}
 }
 
+func TestWords(t *testing.T) {
+	for i, x := range []struct {
+		fields []int
+		want   []string
+	}{
+		{nil, []string{"a"}},
+		{[]int{7}, []string{"a", "7"}},
+		{[]int{0, -12, 0, 345}, []string{"a", "0", "-12", "0", "345"}},
+	} {
+		if got := terms.Words("a", x.fields...); !slices.Equal(got, x.want) {
+			t.Error(i, got)
+		}
+	}
+}
+
 func TestText(t *testing.T) {
 	if text := terms.Text([][]string{{"a", "1", "2"}, {"b"}, {"c", "3..4"}}); text != "a 1 2\nb\nc 3..4\n" {
 		t.Errorf("%q", text)
