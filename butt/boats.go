@@ -43,7 +43,7 @@ func (b book) spans() []api.Span {
 // agrees tells whether all notes are right about numbers of boards.
 func (b book) agrees(x boards) bool {
 	return !slices.ContainsFunc(b.Notes, func(n api.ButtNote) bool {
-		return !terms.Has(n.Sum, terms.Sum(terms.Pick(x[:], n.Kinds)...))
+		return !terms.IsSum(x[:], n.Kinds, n.Sum)
 	})
 }
 

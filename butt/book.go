@@ -40,25 +40,22 @@ func (b book) snag() api.Snag {
 	return terms.EachSnag(len(b.Notes), b.noteSnag)
 }
 
-func (b book) framesOut() bool { return !terms.Has(upTo(api.MaxButtFrames), b.Frames) }
+func (b book) framesOut() bool { return !terms.Has(terms.UpTo(api.MaxButtFrames), b.Frames) }
 
-func (b book) strakesOut() bool { return !terms.Has(upTo(api.MaxButtStrakes), b.Strakes) }
+func (b book) strakesOut() bool { return !terms.Has(terms.UpTo(api.MaxButtStrakes), b.Strakes) }
 
 func (b book) gapOut() bool { return terms.IsOut(b.Gap, api.MaxButtGap) }
 
 func (b book) betweenOut() bool { return terms.IsOut(b.Between, api.MaxButtBetween) }
 
-func (b book) leastOut() bool { return !terms.Has(upTo(api.MaxButtFrames), b.Least) }
+func (b book) leastOut() bool { return !terms.Has(terms.UpTo(api.MaxButtFrames), b.Least) }
 
-func (b book) kindsMiscounted() bool { return !terms.Has(upTo(api.MaxButtKinds), len(b.Kinds)) }
-
-// upTo returns the span from 1 to a number.
-func upTo(most int) api.Span { return api.Span{Low: 1, High: most} }
+func (b book) kindsMiscounted() bool { return !terms.Has(terms.UpTo(api.MaxButtKinds), len(b.Kinds)) }
 
 func (b book) kindSnag(i int) api.Snag {
 	k := b.Kinds[i]
 	switch {
-	case !terms.Has(upTo(api.MaxButtLong), k.Long) || terms.IsOut(k.Cost, api.MaxButtCost):
+	case !terms.Has(terms.UpTo(api.MaxButtLong), k.Long) || terms.IsOut(k.Cost, api.MaxButtCost):
 		return api.Range
 	case !isMany(k.Many) || k.Many.High-k.Many.Low >= api.MaxButtWide:
 		return api.Range
@@ -90,6 +87,6 @@ func (b book) layoutSnag(lists [][]int) api.Snag {
 		return api.Many
 	}
 	return terms.EachSnag(b.Strakes, func(strake int) api.Snag {
-		return terms.AscendingSnag(lists[strake], upTo(b.Frames-1))
+		return terms.AscendingSnag(lists[strake], terms.UpTo(b.Frames-1))
 	})
 }

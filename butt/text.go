@@ -20,21 +20,6 @@ const (
 	noteWord = "note"
 )
 
-// lineKind is a kind of lines: its word, how many fields are behind it, and how they are read.
-type lineKind struct {
-	word   string
-	fields int
-	read   func(terms.Line) textLine
-}
-
-func lineKinds() []lineKind {
-	return []lineKind{
-		{buttWord, 5, readButt},
-		{kindWord, 3, readKind},
-		{noteWord, 2, readNote},
-	}
-}
-
 // textLine is a line of a text.
 type textLine interface{ Rank() int }
 
@@ -75,12 +60,11 @@ func readText(text string) api.ButtBook {
 }
 
 func readLine(l terms.Line) textLine {
-	for _, k := range lineKinds() {
-		if l.Is(k.word, k.fields) {
-			return k.read(l)
-		}
-	}
-	panic(l.Bad())
+	return terms.Known(l, []terms.LineKind[textLine]{
+		{Word: buttWord, Fields: 5, Read: readButt},
+		{Word: kindWord, Fields: 3, Read: readKind},
+		{Word: noteWord, Fields: 2, Read: readNote},
+	})
 }
 
 func readButt(l terms.Line) textLine {

@@ -42,7 +42,7 @@ func (b book) spans() []api.Span {
 // agrees tells whether all tapes are right about lengths.
 func (b book) agrees(l lengths) bool {
 	return !slices.ContainsFunc(b.Tapes, func(t api.MouldTape) bool {
-		return !terms.Has(t.Sum, terms.Sum(terms.Pick(l[:], t.Pieces)...))
+		return !terms.IsSum(l[:], t.Pieces, t.Sum)
 	})
 }
 

@@ -58,7 +58,7 @@ func (b book) pieceSnag(i int) api.Snag {
 }
 
 // anyLength is all lengths that there are.
-func anyLength() api.Span { return api.Span{Low: 1, High: api.MaxMouldLong} }
+func anyLength() api.Span { return terms.UpTo(api.MaxMouldLong) }
 
 // isLengths tells whether x is a span of lengths.
 func isLengths(x api.Span) bool { return terms.IsSpan(x, 1, api.MaxMouldLong) }

@@ -39,7 +39,7 @@ func (b book) snag() api.Snag {
 // limitsOut looks at Most once Least is known to be a width, so that the spread can be told.
 func (b book) limitsOut() bool {
 	return isStrakesOut(b.Strakes) ||
-		!terms.Has(api.Span{Low: 1, High: api.MaxStrakeWidth}, b.Least) ||
+		!terms.Has(terms.UpTo(api.MaxStrakeWidth), b.Least) ||
 		!terms.Has(api.Span{Low: b.Least, High: min(b.Least+api.MaxStrakeSpread, api.MaxStrakeWidth)}, b.Most) ||
 		terms.IsOut(b.Taper, api.MaxStrakeTaper) ||
 		terms.IsOut(b.Bend, api.MaxStrakeBend)

@@ -71,6 +71,11 @@ func SumSnag(indexes []int, many int, sum api.Span, most int) api.Snag {
 	return api.Clear
 }
 
+// IsSum tells whether some of several numbers are one of a span together.
+func IsSum(numbers, indexes []int, sum api.Span) bool {
+	return Has(sum, Sum(Pick(numbers, indexes)...))
+}
+
 // EachSnag returns the first snag of so many elements, in order.
 func EachSnag(many int, snag func(i int) api.Snag) api.Snag {
 	for i := range many {

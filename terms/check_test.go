@@ -151,3 +151,24 @@ func TestSumSnag(t *testing.T) {
 		}
 	}
 }
+
+func TestIsSum(t *testing.T) {
+	for i, x := range []struct {
+		indexes []int
+		sum     api.Span
+		want    bool
+	}{
+		{[]int{0}, to(4, 4), true},
+		{[]int{0, 2}, to(13, 13), true},
+		{[]int{0, 2}, to(12, 14), true},
+		{[]int{0, 2}, to(4, 12), false},
+		{[]int{0, 2}, to(14, 99), false},
+		{[]int{0, 1, 2}, to(11, 11), true},
+		{nil, to(0, 0), true},
+		{nil, to(1, 9), false},
+	} {
+		if is := terms.IsSum([]int{4, -2, 9}, x.indexes, x.sum); is != x.want {
+			t.Error(i, is)
+		}
+	}
+}

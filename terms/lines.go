@@ -94,6 +94,23 @@ func (l Line) Numbers(i int) []int { return fieldList(l, i, Number) }
 // Spans reads a field that is a list of spans.
 func (l Line) Spans(i int) []api.Span { return fieldList(l, i, Span) }
 
+// LineKind is a kind of lines: its word, how many fields are behind it, and how they are read.
+type LineKind[L any] struct {
+	Word   string
+	Fields int
+	Read   func(Line) L
+}
+
+// Known reads a line that is of one of some kinds. Any other line is a panic with its number.
+func Known[L any](l Line, kinds []LineKind[L]) L {
+	for _, k := range kinds {
+		if l.Is(k.Word, k.Fields) {
+			return k.Read(l)
+		}
+	}
+	panic(l.Bad())
+}
+
 func field[T any](l Line, i int, read func(string) (T, bool)) T {
 	x, ok := read(l.words[i])
 	if !ok {

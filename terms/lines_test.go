@@ -107,3 +107,35 @@ func TestParse(t *testing.T) {
 		}
 	}
 }
+
+// A line is read as the first kind says that has its word and as many fields.
+func TestKnown(t *testing.T) {
+	as := func(rank int) func(terms.Line) read {
+		return func(l terms.Line) read { return read{rank: rank, word: l.Word(0)} }
+	}
+	all := func(text string) []read {
+		return terms.Read(text, func(l terms.Line) read {
+			return terms.Known(l, []terms.LineKind[read]{{"head", 0, as(0)}, {"one", 1, as(1)}, {"one", 2, as(2)}, {"one", 2, as(0)}})
+		})
+	}
+	for text, want := range map[string]struct {
+		ranks []int
+		bad   terms.BadLine
+	}{
+		"head\none a\none a b\n": {[]int{0, 1, 2}, 0},
+		"head\none a b c\n":      {nil, 2},
+		"head\none\n":            {nil, 2},
+		"head\ntwo a\n":          {nil, 2},
+		"head a\n":               {nil, 1},
+	} {
+		list, err := terms.Try(text, all)
+		var ranks []int
+		for _, r := range list {
+			ranks = append(ranks, r.rank)
+		}
+		var bad terms.BadLine
+		if wrong := errors.As(err, &bad); !slices.Equal(ranks, want.ranks) || wrong != (want.bad > 0) || bad != want.bad {
+			t.Errorf("%q: %v %v", text, ranks, err)
+		}
+	}
+}

@@ -26,6 +26,9 @@ func Common(x, y api.Span) (api.Span, bool) {
 // Has tells whether a number is in a span.
 func Has(x api.Span, n int) bool { return x.Low <= n && n <= x.High }
 
+// UpTo returns the span from 1 to a number.
+func UpTo(most int) api.Span { return api.Span{Low: 1, High: most} }
+
 // Join returns the span from the least to the greatest number of spans.
 func Join(x api.Span, others ...api.Span) api.Span {
 	for _, y := range others {

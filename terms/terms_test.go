@@ -31,6 +31,17 @@ func TestHas(t *testing.T) {
 	}
 }
 
+func TestUpTo(t *testing.T) {
+	for n, want := range map[int]bool{-1: false, 0: false, 1: true, 5: true, 6: false} {
+		if has := terms.Has(terms.UpTo(5), n); has != want {
+			t.Error(n, has)
+		}
+	}
+	if terms.Has(terms.UpTo(0), 0) || terms.Has(terms.UpTo(0), 1) {
+		t.Error("no number is from 1 to 0")
+	}
+}
+
 func TestCommon(t *testing.T) {
 	for _, x := range []struct {
 		a, b, want api.Span
