@@ -47,14 +47,10 @@ func Read[L Ranked](text string, read func(Line) L) []L {
 	var list []L
 	last := 0
 	for i, s := range Lines(text) {
-		number := BadLine(i + 1)
-		words, ok := Fields(s)
-		if !ok {
-			panic(number)
-		}
-		l := read(Line{number, words})
+		x := LineOf(i+1, s)
+		l := read(x)
 		if (i == 0) != (l.Rank() == 0) || l.Rank() < last {
-			panic(number)
+			panic(x.Bad())
 		}
 		last = l.Rank()
 		list = append(list, l)
@@ -69,6 +65,15 @@ func Read[L Ranked](text string, read func(Line) L) []L {
 type Line struct {
 	number BadLine
 	words  []string
+}
+
+// LineOf returns the line with a number. It panics with the number if the word or a field of the line is empty.
+func LineOf(number int, s string) Line {
+	words, ok := Fields(s)
+	if !ok {
+		panic(BadLine(number))
+	}
+	return Line{BadLine(number), words}
 }
 
 // Is tells whether a line has this word, and so many fields behind it.

@@ -139,3 +139,16 @@ func TestKnown(t *testing.T) {
 		}
 	}
 }
+
+func TestLineOf(t *testing.T) {
+	number := func(s string) int { return terms.LineOf(7, s).Number(1) }
+	if n, err := terms.Try("one 2", number); n != 2 || err != nil {
+		t.Error(n, err)
+	}
+	for _, s := range []string{"", " ", "one  2", "one 2 ", "one x"} {
+		var bad terms.BadLine
+		if _, err := terms.Try(s, number); !errors.As(err, &bad) || bad != 7 {
+			t.Errorf("%q: %v", s, err)
+		}
+	}
+}
